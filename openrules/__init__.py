@@ -1,0 +1,1 @@
+"""Openrules: theorems about inference rules, proved in modules that can be linked."""

@@ -1,0 +1,53 @@
+"""Rules and terms that several tests use."""
+
+NAT_Z = ("natZ", (), ("nat", ("z",)))
+NAT_S = ("natS", (("nat", 0),), ("nat", ("s", 0)))
+ADD_Z = ("addZ", (), ("add", ("z",), 0, 0))
+ADD_S = ("addS", (("add", 0, 1, 2),), ("add", ("s", 0), 1, ("s", 2)))
+NATURALS = (NAT_Z, NAT_S, ADD_Z, ADD_S)
+
+Z = ("z",)
+ONE = ("s", Z)
+TWO = ("s", ONE)
+
+
+def nested(count, inner):
+    """The term s(s(..(inner)..)) with `count` times s."""
+    for _ in range(count):
+        inner = ("s", inner)
+    return inner
+
+
+def broad(size, leaf=Z):
+    """A term with this size and with this leaf, and a depth as small as its eight arguments allow."""
+    if size == 1:
+        return leaf
+    places = min(8, size - 1)
+    share, more = divmod(size - 1, places)
+    return ("b",) + tuple(broad(share + (place < more), leaf) for place in range(places))
+
+
+def doubling(first):
+    """Two terms of size at most 60: unifying them doubles a variable 26 times, beginning with the variable `first`."""
+    variables = range(first, first + 27)
+    left, right = [], []
+    for number in range(26):
+        twice = ("g", variables[number + 1], variables[number + 1])
+        one, other = (left, right) if number % 2 else (right, left)
+        one.append(variables[number])
+        other.append(twice)
+    return grouped(left), grouped(right)
+
+
+def grouped(parts):
+    """The parts as arguments of applications of c, which themselves are arguments."""
+    return ("c",) + tuple(("c",) + tuple(parts[start:start + 7]) for start in range(0, len(parts), 7))
+
+
+def apart_doubling():
+    """Two atoms without common variables, whose common instance doubles a variable 26 times."""
+    left, right = [], []
+    for number in range(13):
+        left.extend([number, ("g", number, number)])
+        right.extend([("g", number, number), number + 1])
+    return grouped(left), grouped(right)

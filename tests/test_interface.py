@@ -1,0 +1,40 @@
+"""The names and the arguments of the interface, and the files in which they are defined."""
+
+import doctest
+import importlib
+import inspect
+import pathlib
+import unittest
+
+FUNCTIONS = {
+    "terms": ("size_of(term)", "depth_of(term)", "variables_of(terms)", "subterms_of(term)", "relation_of(atom)",
+              "substitute(term, pairs)", "numbered(terms)"),
+    "unification": ("unify(left, right)", "matching(pattern, term)", "overlaps(first, second)"),
+    "rules": ("is_valid_rule(rule)", "numbered_rule(rule)", "is_determined(rule)", "is_analytic(rule)"),
+    "derivations": ("fact_of(rules, derivation)", "height_of(derivation)", "rules_in(derivation)"),
+    "facts": ("facts_within(rules, terms, height)", "derivation_within(rules, terms, height, fact)"),
+    "statements": ("is_valid_statement(statement)", "numbered_statement(premises, disjuncts)",
+                   "statement_of_rule(rule)", "rule_of_statement(name, statement)",
+                   "without_equation(statement, number)", "counterexample(statement, facts, terms)"),
+}
+
+
+class InterfaceTest(unittest.TestCase):
+
+    def test_functions(self):
+        for name, told in FUNCTIONS.items():
+            module = importlib.import_module(f"openrules.{name}")
+            for line in told:
+                function = getattr(module, line.partition("(")[0])
+                self.assertEqual(function.__module__, module.__name__)
+                self.assertEqual(function.__name__ + str(inspect.signature(function)), line)
+
+    def test_examples_of_the_readme(self):
+        path = pathlib.Path(__file__).resolve().parent.parent / "README.md"
+        result = doctest.testfile(str(path), module_relative=False)
+        self.assertGreater(result.attempted, 5)
+        self.assertEqual(result.failed, 0)
+
+
+if __name__ == "__main__":
+    unittest.main()
