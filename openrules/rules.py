@@ -24,6 +24,19 @@ def with_refl(rules):
     return rules + (REFL,)
 
 
+def by_name(rules):
+    """Return the rules and refl in ascending order of their names."""
+    return tuple(sorted(with_refl(rules), key=lambda rule: rule[0]))
+
+
+def rule_named(rules, name):
+    """Return the rule with this name, refl included, or None if there is none."""
+    for rule in with_refl(rules):
+        if rule[0] == name:
+            return rule
+    return None
+
+
 def is_valid_rule(rule):
     """Return whether the rule is valid; any triples of the form of a rule may be passed."""
     name, premises, conclusion = rule

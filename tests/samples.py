@@ -10,6 +10,15 @@ Z = ("z",)
 ONE = ("s", Z)
 TWO = ("s", ONE)
 
+RIGHT = ("addZero", (1, (("nat", 0),), ((("add", 0, Z, 0),),)), (0,))
+EVEN = ("evenNat", (1, (("even", 0),), ((("nat", 0),),)), (0,))
+ODD = ("oddNat", (1, (("odd", 0),), ((("nat", 0),),)), (0,))
+FINISH = (("", (("done", 0, ()), ())),)
+FIRST = (("rule", "addZ", (Z,), ()), FINISH)
+LATER = (("apply", "addZero", (0,), (1,)), (("", (("rule", "addS", (0, Z, 0), (2,)), FINISH)),))
+SCOPE = (NATURALS, ((True, (RIGHT,)),))
+GOAL = ((("s", 0),), ((("nat", ("s", 0)), (0, False)), (("nat", 0), (0, True))))
+
 
 def nested(count, inner):
     """The term s(s(..(inner)..)) with `count` times s."""
@@ -51,3 +60,12 @@ def apart_doubling():
         left.extend([number, ("g", number, number)])
         right.extend([("g", number, number), number + 1])
     return grouped(left), grouped(right)
+
+
+def doubling_case(*last):
+    """An atom and the conclusion of a rule: unifying them doubles a variable 14 times. Both end with `last`."""
+    left, right = (), ()
+    for number in range(7):
+        left += (number, ("g", number, number))
+        right += (("g", number, number), number + 1)
+    return tuple(("p", ("c",) + side[:7], ("c",) + side[7:]) + last for side in (left, right))

@@ -16,7 +16,22 @@ FUNCTIONS = {
     "statements": ("is_valid_statement(statement)", "numbered_statement(premises, disjuncts)",
                    "statement_of_rule(rule)", "rule_of_statement(name, statement)",
                    "without_equation(statement, number)", "counterexample(statement, facts, terms)"),
+    "deciding": ("examined_atoms(rules, statement)", "decide(rules, statement)",
+                 "check_decision(rules, statement, decision)", "analytic_bound(rules, statement)"),
+    "expanding": ("expanded(rules, extra, decision, derivation)",),
+    "claims": ("is_valid_block(block)",),
+    "goals": ("numbered_goal(goal)", "in_limits(goal)", "initial_goal(claim)", "inversion(goal, hypothesis, rule)",
+              "inversions(rules, goal, hypothesis)", "case_goal(claim, rule)",
+              "with_disjunct(goal, statement, disjunct, terms)"),
+    "kernel": ("is_lower(bounds)", "after_step(scope, claim, goal, step)",
+               "check_argument(scope, claim, goal, argument)"),
+    "arguments": ("step_count(argument)", "argument_depth(argument)", "steps_of(argument)",
+                  "inverted_atoms(scope, claim, goal, argument)", "applied_claims(argument)",
+                  "trimmed(scope, claim, goal, argument)", "argument_of(rules, statement, decision)"),
+    "modules": ("summaries_of(modules)", "scope_of(summaries)"),
 }
+CLASSES = {"modules": ("Module(parts, imports=())",)}
+PROPERTIES = {"Module": ("parts", "summary", "summaries")}
 
 
 class InterfaceTest(unittest.TestCase):
@@ -28,6 +43,23 @@ class InterfaceTest(unittest.TestCase):
                 function = getattr(module, line.partition("(")[0])
                 self.assertEqual(function.__module__, module.__name__)
                 self.assertEqual(function.__name__ + str(inspect.signature(function)), line)
+
+    def test_classes(self):
+        for name, told in CLASSES.items():
+            module = importlib.import_module(f"openrules.{name}")
+            for line in told:
+                found = getattr(module, line.partition("(")[0])
+                self.assertEqual(found.__module__, module.__name__)
+                self.assertEqual(found.__name__ + str(inspect.signature(found)), line)
+                for word in PROPERTIES[found.__name__]:
+                    self.assertIsInstance(vars(found)[word], property)
+
+    def test_the_only_generator(self):
+        for name, told in FUNCTIONS.items():
+            module = importlib.import_module(f"openrules.{name}")
+            for line in told:
+                word = line.partition("(")[0]
+                self.assertEqual(inspect.isgeneratorfunction(getattr(module, word)), word == "steps_of")
 
     def test_examples_of_the_readme(self):
         path = pathlib.Path(__file__).resolve().parent.parent / "README.md"

@@ -173,6 +173,29 @@ class CodeTest(unittest.TestCase):
         wanted = [ast.dump(node) for _, node in nodes(ast.GeneratorExp)]
         self.assertEqual(sorted(wanted), sorted(ast.dump(node) for node in used if isinstance(node, ast.GeneratorExp)))
 
+    def test_calls_of_generators_are_iterated_at_once(self):
+        own = {node.name for _, node in nodes(ast.FunctionDef)
+               if any(isinstance(inner, (ast.Yield, ast.YieldFrom)) for inner in ast.walk(node))}
+        calls = [node for _, node in nodes(ast.Call) if isinstance(node.func, ast.Name)]
+        wanted = [ast.dump(node) for node in calls if node.func.id in own]
+        loops = [node.iter for _, node in nodes((ast.For, ast.comprehension))]
+        whole = [node.args[0] for node in calls if node.func.id in ("list", "tuple") and node.args]
+        found = [ast.dump(node) for node in loops + whole if isinstance(node, ast.Call)]
+        for call in wanted:
+            self.assertIn(call, found)
+        loaded = [node.id for _, node in nodes(ast.Name) if isinstance(node.ctx, ast.Load)]
+        for word in own:
+            self.assertEqual(loaded.count(word), len([node for node in calls if node.func.id == word]))
+
+    def test_tables_of_a_module_are_not_passed_on(self):
+        for name, tree in trees():
+            tables = {node.targets[0].id for node in tree.body
+                      if isinstance(node, ast.Assign) and isinstance(node.value, (ast.Dict, ast.List))}
+            for node in ast.walk(tree):
+                if isinstance(node, ast.Call):
+                    for argument in node.args:
+                        self.assertNotIn(getattr(argument, "id", None), tables, (name, node.lineno))
+
     def test_words(self):
         for path in FILES:
             text = path.read_text()

@@ -1,0 +1,130 @@
+"""Goals: what is to be proved in the middle of a proof, and how inversion and theorems change it.
+
+Whatever a unifier does to a goal is measured before it is written out; see unifiers.
+"""
+
+from openrules.errors import TooLarge
+from openrules.rules import by_name
+from openrules.statements import existentials_of
+from openrules.terms import instance_of, numbered, shifted, variables_of
+from openrules.unifiers import measured, unified, unifier_of
+from openrules.validity import is_small
+
+MOST_VALUES = 12
+MOST_HYPOTHESES = 30
+MOST_SIZE = 400
+
+
+def terms_of_goal(goal):
+    """Return the values and then the atoms of the hypotheses, the order in which variables are numbered."""
+    return goal[0] + atoms_of_goal(goal)
+
+
+def atoms_of_goal(goal):
+    """Return the atoms of the hypotheses."""
+    return tuple(atom for atom, _ in goal[1])
+
+
+def numbered_goal(goal):
+    """Return the goal with the variables of its values and then of its hypotheses numbered."""
+    values, hypotheses = goal
+    count = len(values)
+    terms = numbered(terms_of_goal(goal))
+    bounds = [bound for _, bound in hypotheses]
+    return (terms[:count], tuple(zip(terms[count:], bounds)))
+
+
+def in_limits(goal):
+    """Return whether the goal is within the limits."""
+    return _fits(goal, {})
+
+
+def _fits(goal, unifier):
+    """Return whether the goal is within the limits after the unifier is applied."""
+    values, hypotheses = goal
+    if len(values) > MOST_VALUES or len(hypotheses) > MOST_HYPOTHESES:
+        return False
+    measures = [measured(term, unifier) for term in terms_of_goal(goal)]
+    if not all(is_small(size, depth) for size, depth in measures):
+        return False
+    return sum([size for size, _ in measures]) <= MOST_SIZE
+
+
+def _after(goal, unifier):
+    """Return the goal to which the unifier leads, numbered. Raises TooLarge if it is not within the limits."""
+    if not _fits(goal, unifier):
+        raise TooLarge()
+    values, hypotheses = goal
+    changed = tuple((unified(atom, unifier), bound) for atom, bound in hypotheses)
+    return numbered_goal((tuple(unified(value, unifier) for value in values), changed))
+
+
+def _first_new_variable(goal):
+    return 1 + max(variables_of(terms_of_goal(goal)), default=-1)
+
+
+def initial_goal(claim):
+    """Return the goal with which the proof of the theorem begins."""
+    _, (universals, premises, _), induction = claim
+    bounds = {number: (position, False) for position, number in enumerate(induction)}
+    hypotheses = tuple((premise, bounds.get(number)) for number, premise in enumerate(premises))
+    return (tuple(range(universals)), hypotheses)
+
+
+def inversion(goal, hypothesis, rule):
+    """Return the goal to which inverting the hypothesis by the rule leads, or None.
+
+    Raises TooLarge if this goal is not within the limits.
+    """
+    values, hypotheses = goal
+    atom, bound = hypotheses[hypothesis]
+    new = _first_new_variable(goal)
+    _, premises, conclusion = rule
+    unifier = unifier_of(atom, shifted(conclusion, new))
+    if unifier is None:
+        return None
+    lower = None
+    if bound is not None:
+        lower = (bound[0], True)
+    added = tuple((shifted(premise, new), lower) for premise in premises)
+    return _after((values, hypotheses + added), unifier)
+
+
+def inversions(rules, goal, hypothesis):
+    """Return the pairs (name, goal) for the rules and refl, by name, by which inverting leads to a goal.
+
+    Raises TooLarge if one of these goals is not within the limits.
+    """
+    found = [(rule[0], inversion(goal, hypothesis, rule)) for rule in by_name(rules)]
+    return tuple((name, left) for name, left in found if left is not None)
+
+
+def case_goal(claim, rule):
+    """Return the goal of the theorem's case for the rule, or None if the rule does not apply to the theorem.
+
+    Raises TooLarge if this goal is not within the limits.
+    """
+    return inversion(initial_goal(claim), claim[2][0], rule)
+
+
+def with_hypotheses(goal, atoms):
+    """Return the goal with these atoms as further hypotheses without bounds.
+
+    Raises TooLarge if this goal is not within the limits.
+    """
+    values, hypotheses = goal
+    return _after((values, hypotheses + tuple((atom, None) for atom in atoms)), {})
+
+
+def with_disjunct(goal, statement, disjunct, terms):
+    """Return the goal with a disjunct of the statement added, where its universal variables stand for the terms.
+
+    Raises TooLarge if this goal is not within the limits.
+    """
+    universals, _, disjuncts = statement
+    atoms = disjuncts[disjunct]
+    table = dict(enumerate(terms))
+    new = _first_new_variable(goal)
+    for place, variable in enumerate(existentials_of(universals, atoms)):
+        table[variable] = new + place
+    return with_hypotheses(goal, tuple(instance_of(atom, table) for atom in atoms))
