@@ -83,8 +83,8 @@ def _trimmed(scope, claim, goal, argument):
         return (_lowered(inner[0][0], count, added), list(used))
     for number in _used_by_step(claim_in(scope, claim), goal, step):
         used[number] = True
-    kept = tuple((label, part) for (label, _), (part, _) in zip(parts, inner))
-    return ((step, kept), [number for number in used if number < count])
+    kept = [(label, part) for (label, _), (part, _) in zip(parts, inner)]
+    return ((step, tuple(kept)), [number for number in used if number < count])
 
 
 def _is_removable(scope, step):

@@ -130,15 +130,15 @@ def _steps(examined, given):
     """Return the tuple of the steps, and a dict with the number of its step for the key of each atom that has one."""
     steps = []
     places = {}
-    _record(steps, places, [(key, (atom, None, ())) for atom, key, _ in examined if atom in given])
+    _add_steps(steps, places, [(key, (atom, None, ())) for atom, key, _ in examined if atom in given])
     added = _round(examined, places)
     while added:
-        _record(steps, places, added)
+        _add_steps(steps, places, added)
         added = _round(examined, places)
     return tuple(steps), places
 
 
-def _record(steps, places, added):
+def _add_steps(steps, places, added):
     for key, step in added:
         places[key] = len(steps)
         steps.append(step)

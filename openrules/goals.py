@@ -67,8 +67,8 @@ def initial_goal(claim):
     """Return the goal with which the proof of the theorem begins."""
     _, (universals, premises, _), induction = claim
     bounds = {number: (position, False) for position, number in enumerate(induction)}
-    hypotheses = tuple((premise, bounds.get(number)) for number, premise in enumerate(premises))
-    return (tuple(range(universals)), hypotheses)
+    hypotheses = [(premise, bounds.get(number)) for number, premise in enumerate(premises)]
+    return (tuple(range(universals)), tuple(hypotheses))
 
 
 def inversion(goal, hypothesis, rule):

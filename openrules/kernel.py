@@ -124,8 +124,7 @@ def _goals_after(scope, goal, step):
         return (("", with_hypotheses(goal, (conclusion,))),)
     if kind == "apply":
         statement = claim_in(scope, step[1])[1]
-        places = range(len(statement[2]))
-        return tuple(("", with_disjunct(goal, statement, place, step[2])) for place in places)
+        return tuple([("", with_disjunct(goal, statement, place, step[2])) for place in range(len(statement[2]))])
     if kind == "invert":
         return inversions(scope[0], goal, step[1])
     return ()

@@ -27,8 +27,8 @@ class Module:
         entries = parts[4]
         if len(entries) > MOST_ENTRIES:
             raise TooLarge()
-        summarized = tuple(_summarized(scope, place, entry) for place, entry in enumerate(entries))
-        self._members = members + ((parts, parts[:4] + (summarized,)),)
+        summarized = [_summarized(scope, place, entry) for place, entry in enumerate(entries)]
+        self._members = members + ((parts, parts[:4] + (tuple(summarized),)),)
 
     @property
     def parts(self):

@@ -10,6 +10,9 @@ from openrules.terms import instance_of, key_of, relation_of, subterms_of
 
 def unifier_of(left, right):
     """Return a most general unifier of two terms that share their variables, or None if there is none."""
+    # Most rules that are tried clash with an atom already here, and this is far cheaper than what follows.
+    if _is_clash(left, right):
+        return None
     terms = subterms_of(("=", left, right))
     numbers = {key_of(term): number for number, term in enumerate(terms)}
     parts = [_numbers_of_parts(term, numbers) for term in terms]
@@ -33,6 +36,18 @@ def measured(term, unifier):
 def unified(term, unifier):
     """Return the term to which the unifier leads."""
     return instance_of(term, {variable: unifier[variable][2] for variable in unifier})
+
+
+def _is_clash(left, right):
+    """Return whether both terms have applications at the same position that do not fit each other."""
+    waiting = [(left, right)]
+    while waiting:
+        one, other = waiting.pop()
+        if not isinstance(one, int) and not isinstance(other, int):
+            if relation_of(one) != relation_of(other):
+                return True
+            waiting.extend(list(zip(one[1:], other[1:])))
+    return False
 
 
 def _around(inner):

@@ -4,7 +4,8 @@ import inspect
 import itertools
 import unittest
 
-from openrules.arguments import applied_claims, argument_depth, argument_of, inverted_atoms, step_count, steps_of, trimmed
+from openrules.arguments import applied_claims, argument_depth, argument_of, inverted_atoms
+from openrules.arguments import step_count, steps_of, trimmed
 from openrules.deciding import check_decision, decide
 from openrules.errors import HasExistentials, TooLarge, WrongDecision
 from openrules.goals import initial_goal
@@ -58,7 +59,8 @@ class SizesTest(unittest.TestCase):
 class StepsTest(unittest.TestCase):
 
     def test_example(self):
-        expected = [((), ("apply", "addZero", (0,), (1,))), ((0,), ("rule", "addS", (0, Z, 0), (2,))), ((0, 0), ("done", 0, ()))]
+        expected = [((), ("apply", "addZero", (0,), (1,))), ((0,), ("rule", "addS", (0, Z, 0), (2,))),
+                    ((0, 0), ("done", 0, ()))]
         self.assertEqual(list(steps_of(LATER)), expected)
 
     def test_a_generator(self):
@@ -73,7 +75,8 @@ class StepsTest(unittest.TestCase):
         inner = (("invert", 1), (("x", (("done", 1, ()), ())), ("y", (("done", 2, ()), ()))))
         argument = (("invert", 0), (("a", inner), ("b", (("done", 3, ()), ())), ("c", inner)))
         expected = [((), ("invert", 0)), ((0,), ("invert", 1)), ((0, 0), ("done", 1, ())), ((0, 1), ("done", 2, ())),
-                    ((1,), ("done", 3, ())), ((2,), ("invert", 1)), ((2, 0), ("done", 1, ())), ((2, 1), ("done", 2, ()))]
+                    ((1,), ("done", 3, ())), ((2,), ("invert", 1)), ((2, 0), ("done", 1, ())),
+                    ((2, 1), ("done", 2, ()))]
         self.assertEqual(list(steps_of(argument)), expected)
 
     def test_proofs_that_are_accepted_by_nothing(self):
@@ -107,7 +110,8 @@ class UsedTest(unittest.TestCase):
         self.assertEqual(applied_claims(argument), ("c", "b", "a", "d"))
 
     def test_rules_are_not_applied(self):
-        self.assertEqual(applied_claims((("rule", "addZero", (), ()), (("", DONE), ("", (("apply", "x", (), ()), ()))))), ("x",))
+        self.assertEqual(applied_claims((("rule", "addZero", (), ()),
+                                         (("", DONE), ("", (("apply", "x", (), ()), ()))))), ("x",))
 
     def inverted(self, argument, goal, claim="addZero", scope=WIDE):
         self.assertIsNone(check_argument(scope, claim, goal, argument))
@@ -147,7 +151,8 @@ class UsedTest(unittest.TestCase):
 
     def test_in_parts_of_applied_theorems(self):
         goal = ((0,), ((("nat", 0), None), (("add", 0, Z, 0), None)))
-        argument = (("apply", "natCases", (0,), (0,)), (("", (("invert", 2), (("refl", DONE),))), ("", (("invert", 3), (("natS", DONE), ("natZ", DONE))))))
+        argument = (("apply", "natCases", (0,), (0,)),
+                    (("", (("invert", 2), (("refl", DONE),))), ("", (("invert", 3), (("natS", DONE), ("natZ", DONE))))))
         self.assertEqual(self.inverted(argument, goal), (("=", 0, Z), ("nat", 0)))
 
 
@@ -172,7 +177,8 @@ class TrimmedTest(unittest.TestCase):
 
     def test_everything_before_the_end(self):
         goal = ((0,), ((("nat", 0), None), (("add", 0, Z, 0), None)))
-        argument = chain(("rule", "natS", (0,), (0,)), ("rule", "natS", (("s", 0),), (2,)), ("apply", "twice", (0,), (0,)),
+        argument = chain(("rule", "natS", (0,), (0,)), ("rule", "natS", (("s", 0),), (2,)),
+                         ("apply", "twice", (0,), (0,)),
                          ("rule", "refl", (Z,), ()), ("done", 0, ()))
         self.trims(DONE, argument, goal)
 
@@ -196,7 +202,8 @@ class TrimmedTest(unittest.TestCase):
         split = (("apply", "natCases", (0,), (0,)), (("", DONE), ("", DONE)))
         self.trims(split, split, goal)
         self.trims((("apply", "never", (0,), (2,)), ()), (("apply", "never", (0,), (2,)), ()), goal)
-        self.trims(chain(("apply", "some", (0,), (0,)), ("done", 0, ())), chain(("apply", "some", (0,), (0,)), ("done", 0, ())), goal)
+        self.trims(chain(("apply", "some", (0,), (0,)), ("done", 0, ())),
+                   chain(("apply", "some", (0,), (0,)), ("done", 0, ())), goal)
         self.trims(DONE, chain(("apply", "twice", (0,), (0,)), ("done", 0, ())), goal)
 
     def test_parts_of_steps_that_stay(self):
@@ -204,7 +211,8 @@ class TrimmedTest(unittest.TestCase):
         part = chain(("rule", "refl", (0,), ()), ("done", 0, ()))
         deeper = (("rule", "natZ", (), ()), (("", (("invert", 3), (("natS", part), ("natZ", part)))),))
         argument = (("apply", "natCases", (0,), (0,)), (("", part), ("", deeper)))
-        expected = (("apply", "natCases", (0,), (0,)), (("", DONE), ("", (("invert", 3), (("natS", DONE), ("natZ", DONE))))))
+        expected = (("apply", "natCases", (0,), (0,)),
+                    (("", DONE), ("", (("invert", 3), (("natS", DONE), ("natZ", DONE))))))
         self.trims(expected, argument, goal)
 
     def test_inversions_use_and_stay(self):
@@ -215,18 +223,23 @@ class TrimmedTest(unittest.TestCase):
 
     def test_numbers_of_inverted_hypotheses_decrease(self):
         goal = ((0,), ((("nat", 0), None), (("add", 0, Z, 0), None)))
-        argument = (("rule", "natZ", (), ()), (("", (("rule", "natS", (0,), (0,)), (("", (("invert", 3), (("natS", DONE),))),))),))
+        argument = (("rule", "natZ", (), ()),
+                    (("", (("rule", "natS", (0,), (0,)), (("", (("invert", 3), (("natS", DONE),))),))),))
         self.trims((("rule", "natS", (0,), (0,)), (("", (("invert", 2), (("natS", DONE),))),)), argument, goal)
-        argument = (("rule", "natZ", (), ()), (("", (("invert", 0), (("natS", (("invert", 3), (("natS", DONE), ("natZ", DONE)))), ("natZ", DONE)))),))
-        self.trims((("invert", 0), (("natS", (("invert", 2), (("natS", DONE), ("natZ", DONE)))), ("natZ", DONE))), argument, goal)
+        cases = [(("invert", 0), (("natS", (("invert", number), (("natS", DONE), ("natZ", DONE)))), ("natZ", DONE)))
+                 for number in (2, 3)]
+        self.trims(cases[0], (("rule", "natZ", (), ()), (("", cases[1]),)), goal)
 
     def test_numbers_before_and_behind(self):
         """The numbers of hypotheses before a removed step stay, those behind it decrease by what it added."""
-        argument = chain(("apply", "addZero", (0,), (1,)), ("apply", "twice", (0,), (1,)), ("rule", "addS", (0, Z, 0), (2,)),
+        argument = chain(("apply", "addZero", (0,), (1,)), ("apply", "twice", (0,), (1,)),
+                         ("rule", "addS", (0, Z, 0), (2,)),
                          ("rule", "natZ", (), ()), ("apply", "some", (("s", 0),), (0,)), ("done", 0, ()))
-        expected = chain(("apply", "addZero", (0,), (1,)), ("rule", "addS", (0, Z, 0), (2,)), ("apply", "some", (("s", 0),), (0,)), ("done", 0, ()))
+        expected = chain(("apply", "addZero", (0,), (1,)), ("rule", "addS", (0, Z, 0), (2,)),
+                         ("apply", "some", (("s", 0),), (0,)), ("done", 0, ()))
         self.trims(expected, argument)
-        argument = chain(("apply", "twice", (0,), (1,)), ("apply", "addZero", (0,), (1,)), ("apply", "twice", (0,), (1,)),
+        argument = chain(("apply", "twice", (0,), (1,)), ("apply", "addZero", (0,), (1,)),
+                         ("apply", "twice", (0,), (1,)),
                          ("rule", "addS", (0, Z, 0), (4,)), ("done", 0, ()))
         self.trims(LATER, argument)
 
@@ -239,18 +252,21 @@ class TrimmedTest(unittest.TestCase):
 
     def test_the_first_hypothesis_that_has_the_atom(self):
         """A second step that adds the same atom again is of no use for done, but is used by its number."""
-        argument = chain(("apply", "addZero", (0,), (1,)), ("apply", "addZero", (0,), (1,)), ("rule", "addS", (0, Z, 0), (3,)),
+        argument = chain(("apply", "addZero", (0,), (1,)), ("apply", "addZero", (0,), (1,)),
+                         ("rule", "addS", (0, Z, 0), (3,)),
                          ("rule", "addS", (0, Z, 0), (2,)), ("done", 0, ()))
         expected = chain(("apply", "addZero", (0,), (1,)), ("rule", "addS", (0, Z, 0), (2,)), ("done", 0, ()))
         self.trims(expected, argument)
         goal = ((0,), ((("add", 0, Z, 0), None), (("nat", 0), None)))
-        argument = chain(("rule", "natZ", (), ()), ("rule", "natZ", (), ()), ("apply", "some", (Z,), (3,)), ("done", 0, ()))
+        argument = chain(("rule", "natZ", (), ()), ("rule", "natZ", (), ()), ("apply", "some", (Z,), (3,)),
+                         ("done", 0, ()))
         self.trims(chain(("rule", "natZ", (), ()), ("apply", "some", (Z,), (2,)), ("done", 0, ())), argument, goal)
 
     def test_done_uses_each_atom_of_its_disjunct(self):
         claim = ("pair", (1, (("nat", 0),), ((("nat", ("s", 0)), ("nat", Z), ("=", 1, 1)),)), ())
         scope = (NATURALS, WIDE[1] + ((False, (claim,)),))
-        steps = [("rule", "natZ", (), ()), ("rule", "natS", (0,), (0,)), ("rule", "refl", (Z,), ()), ("rule", "refl", (ONE,), ())]
+        steps = [("rule", "natZ", (), ()), ("rule", "natS", (0,), (0,)), ("rule", "refl", (Z,), ()),
+                 ("rule", "refl", (ONE,), ())]
         for place in range(2, 4):
             kept = steps[:2] + steps[place:place + 1]
             for order in itertools.permutations(steps):
@@ -273,7 +289,8 @@ class TrimmedTest(unittest.TestCase):
         rules = (("zero", (), P), ("one", (P,), P), ("two", (P, P), Q), ("last", (Q,), R))
         scope = (rules, ((False, (("goal", (0, (), ((R,), (P,))), ()),)),))
         ways = [[("zero", ())], [("one", (0,)), ("zero", ())], [("one", (1,)), ("two", (0, 0)), ("two", (1, 0))],
-                [("one", (0,)), ("zero", ()), ("two", (0, 1))], [("two", (0, 1)), ("two", (1, 1))], [("last", (2,)), ("last", (4,))]]
+                [("one", (0,)), ("zero", ()), ("two", (0, 1))], [("two", (0, 1)), ("two", (1, 1))],
+                [("last", (2,)), ("last", (4,))]]
         tried = 0
         for chosen in itertools.product(*ways):
             for disjunct in range(2):
@@ -292,7 +309,8 @@ class TrimmedTest(unittest.TestCase):
         for _ in chosen:
             needed |= {number for place in needed for number in chosen[place][1]}
         order = sorted(needed)
-        kept = [("rule", chosen[place][0], (), tuple(order.index(number) for number in chosen[place][1])) for place in order]
+        kept = [("rule", chosen[place][0], (), tuple(order.index(number) for number in chosen[place][1]))
+                for place in order]
         return kept + [("done", disjunct, ())]
 
     def test_long_proofs(self):
@@ -333,7 +351,8 @@ class ArgumentOfTest(unittest.TestCase):
 
     def test_a_premise_alone(self):
         self.becomes(DONE, (), (0, (Q, P), ((P,),)), (True, 0, ((P, None, ()),), ()))
-        self.becomes((("done", 1, ()), ()), (), (0, (Q, P), ((R,), (P, Q))), (True, 1, ((P, None, ()), (Q, None, ())), ()))
+        self.becomes((("done", 1, ()), ()), (), (0, (Q, P), ((R,), (P, Q))),
+                     (True, 1, ((P, None, ()), (Q, None, ())), ()))
 
     def test_the_first_premise_that_is_the_atom(self):
         rules = (("r", (P, Q), R),)
@@ -368,13 +387,15 @@ class ArgumentOfTest(unittest.TestCase):
     def test_a_step_that_is_used_twice(self):
         rules = (("a", (), P), ("b", (P, P), Q), ("c", (Q, P, Q), R))
         steps = ((P, "a", ()), (Q, "b", (0, 0)), (R, "c", (1, 0, 1)))
-        expected = chain(("rule", "a", (), ()), ("rule", "b", (), (1, 1)), ("rule", "c", (), (2, 1, 2)), ("done", 0, ()))
+        expected = chain(("rule", "a", (), ()), ("rule", "b", (), (1, 1)), ("rule", "c", (), (2, 1, 2)),
+                         ("done", 0, ()))
         self.becomes(expected, rules, (0, (("x",),), ((R, Q),)), (True, 0, steps, ()))
 
     def test_variables_that_occur_in_premises_only(self):
         rules = (("path", (("edge", 0, 2), ("edge", 2, 1)), ("path", 0, 1)),)
         statement = numbered_statement((("edge", 0, 1), ("edge", 1, 2)), (((), (("path", 0, 2),)),))
-        decision = (True, 0, ((("edge", 1, 2), None, ()), (("edge", 0, 1), None, ()), (("path", 0, 2), "path", (1, 0))), ())
+        decision = (True, 0,
+                    ((("edge", 1, 2), None, ()), (("edge", 0, 1), None, ()), (("path", 0, 2), "path", (1, 0))), ())
         self.becomes(chain(("rule", "path", (0, 2, 1), (0, 1)), ("done", 0, ())), rules, statement, decision)
 
     def test_refl(self):
@@ -383,7 +404,8 @@ class ArgumentOfTest(unittest.TestCase):
         self.becomes(expected, (), statement, decide((), statement))
 
     def test_decisions(self):
-        rules = (("evZ", (), ("even", Z)), ("evS", (("odd", 0),), ("even", ("s", 0))), ("odS", (("even", 0),), ("odd", ("s", 0))))
+        rules = (("evZ", (), ("even", Z)), ("evS", (("odd", 0),), ("even", ("s", 0))),
+                 ("odS", (("even", 0),), ("odd", ("s", 0))))
         atoms = [("even", 0), ("odd", ("s", ("s", 0))), ("odd", nested(3, Z)), ("even", ("s", 0)), ("odd", 0)]
         found = 0
         for first, second, third in itertools.product(atoms, repeat=3):
@@ -413,7 +435,8 @@ class ArgumentErrorsTest(unittest.TestCase):
     def test_wrong_decisions(self):
         statement = (0, (P,), ((P,), (Q,)))
         for decision in ((True, 1, ((P, None, ()),), ()), (True, None, ((P, None, ()),), ()), (True, 0, (), ()),
-                         (True, 0, ((P, None, ()), (Q, None, ())), ()), (True, 0, ((P, None, ()), (P, "refl", (0,))), ())):
+                         (True, 0, ((P, None, ()), (Q, None, ())), ()),
+                         (True, 0, ((P, None, ()), (P, "refl", (0,))), ())):
             self.refused(WrongDecision, (), statement, decision)
 
     def test_false(self):

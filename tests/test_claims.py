@@ -46,7 +46,8 @@ class ValidBlockTest(unittest.TestCase):
 
     def test_statements(self):
         good = claim("a", 1, 0)
-        for statement in ((1, (P,), ()), (0, (P,), ((),)), (1, (("p", 0),) * 5, ()), (0, (("p", broad(60)),), ()), (0, (("P",),), ())):
+        for statement in ((1, (P,), ()), (0, (P,), ((),)), (1, (("p", 0),) * 5, ()), (0, (("p", broad(60)),), ()),
+                          (0, (("P",),), ())):
             self.invalid(False, ("a", statement, (0,)))
             self.invalid(True, good, ("b", statement, (0,)))
         self.valid(True, good, ("b", (1, (("=", 0, Z),), ()), (0,)))

@@ -217,7 +217,7 @@ class DecideErrorsTest(unittest.TestCase):
         self.both(TooLarge, rules[:1], statement((), (("p", A),)))
 
     def many_rules(self):
-        """24 rules, which conclude four atoms and then those that they lead to, in all 100 atoms with their premises."""
+        """24 rules, which conclude four atoms and then some that they lead to: 100 atoms in all."""
         names = [f"n{number}" for number in range(100)]
         return tuple((f"r{place}", tuple((name,) for name in names[4 + 4 * place:8 + 4 * place]), (names[place],))
                      for place in range(24))
@@ -356,7 +356,8 @@ class CheckTrueTest(unittest.TestCase):
         self.wrong(statement((), (("any", A),)), True, 0, ((("any", A), "some", ()),), ())
 
     def test_foreign_variables(self):
-        steps = ((("=", 7, 7), "refl", ()), (("add", Z, 9, 9), "addZ", ()), (("add", ("s", Z), 9, ("s", 9)), "addS", (1,)))
+        steps = ((("=", 7, 7), "refl", ()), (("add", Z, 9, 9), "addZ", ()),
+                 (("add", ("s", Z), 9, ("s", 9)), "addS", (1,)))
         made = statement((("nat", 0),), (("nat", 0),))
         self.right(made, True, 0, steps + ((("nat", 0), None, ()),), ())
         self.wrong(made, True, 0, steps + ((("nat", 0), None, ()), (("add", Z, 9, 8), "addZ", ())), ())
@@ -480,7 +481,8 @@ class AllDecisionsTest(unittest.TestCase):
              ("sym", (("eq", 1, 0),), ("eq", 0, 1)), ("same", (("=", 0, 1), ("nat", 0)), ("eq", 0, 1)))
 
     def statements(self):
-        atoms = (("nat", 0), ("nat", ("s", ("s", Z))), ("eq", 0, Z), ("eq", ("s", 0), ("s", 1)), ("eq", 1, 1), ("=", 0, 1))
+        atoms = (("nat", 0), ("nat", ("s", ("s", Z))), ("eq", 0, Z), ("eq", ("s", 0), ("s", 1)), ("eq", 1, 1),
+                 ("=", 0, 1))
         for premise, first, second, third in itertools.product(atoms, repeat=4):
             yield numbered_statement((premise,), (((), (first, second)), ((), (third,))))
 
@@ -554,7 +556,8 @@ class AnalyticBoundTest(unittest.TestCase):
 
     def test_variables_are_compared_as_integers(self):
         self.assertEqual(analytic_bound((), (1, (("p", 0),), ((("p", 0),), (("p", 1),), (("p", 1),)))), 2)
-        self.assertEqual(analytic_bound((NAT_S, TRANS), (0, (), ((("q", ("s", 0), 0, 1),), (("nat", 0),)))), 27 + 3 + 9 + 9)
+        self.assertEqual(analytic_bound((NAT_S, TRANS), (0, (), ((("q", ("s", 0), 0, 1),), (("nat", 0),)))),
+                         27 + 3 + 9 + 9)
 
     def test_large_bounds(self):
         made = (8, (), ((("p",) + tuple(range(8)),), (("q",) + tuple(("f", number) for number in range(8)),)))

@@ -129,7 +129,8 @@ class ExpandedTest(unittest.TestCase):
         self.assertEqual(result, ground("d", ground("c", ground("a"))))
 
     def test_foreign_variables_stand_for_any(self):
-        rules = (("some", (("p", 0),), Q), ("all", (), ("p", 0)), ("one", (("q", 0, 1),), ("p", 0)), ("two", (), ("q", 0, 1)))
+        rules = (("some", (("p", 0),), Q), ("all", (), ("p", 0)), ("one", (("q", 0, 1),), ("p", 0)),
+                 ("two", (), ("q", 0, 1)))
         steps = ((("p", ("f", 7, 65535)), "all", ()), (Q, "some", (0,)))
         result = self.checked(rules, ("extra", (), Q), (True, 0, steps, ()), ground("extra"))
         term = ("f", ANY, ANY)
@@ -259,7 +260,8 @@ class LimitsTest(unittest.TestCase):
 
     def test_rules_outside_count(self):
         rules = COUNTING + (("up", (Q,), ("r", Z)), ("pair", (Q, Q), R))
-        self.assertEqual(rules_in(expanded(rules, self.extra, counting_decision(1999), ground("up", ground("extra")))), 2000)
+        self.assertEqual(rules_in(expanded(rules, self.extra, counting_decision(1999),
+                                           ground("up", ground("extra")))), 2000)
         self.refused(rules, self.extra, counting_decision(2000), ground("up", ground("extra")))
         twice = ground("pair", ground("extra"), ground("extra"))
         self.assertEqual(rules_in(expanded(rules, self.extra, counting_decision(999), twice)), 1999)
@@ -313,6 +315,13 @@ class LimitsTest(unittest.TestCase):
             derivation = ground("up", derivation)
         self.assertEqual(height_of(expanded(rules, self.extra, decision, derivation)), 60)
         self.refused(rules, self.extra, decision, ground("up", derivation))
+
+    def test_the_greatest_height_of_the_parts(self):
+        rules, decision = self.chain(59)
+        rules += (("pair", (Q, P), R), ("riap", (P, Q), R))
+        for name, parts in (("pair", (ground("extra"), ground("base"))), ("riap", (ground("base"), ground("extra")))):
+            self.assertEqual(height_of(expanded(rules, self.extra, decision, ground(name, *parts))), 60)
+            self.refused(rules, self.extra, self.chain(60)[1], ground(name, *parts))
 
     def term_rules(self, wrapped):
         """Rules, an extra rule and its decision: the derivation of q(t) has `wrapped` with t for 0 as a term."""

@@ -39,7 +39,8 @@ class NumberedTest(unittest.TestCase):
     def test_nothing(self):
         self.assertEqual(numbered_goal(((), ())), ((), ()))
         self.assertEqual(numbered_goal(((LAST,), ())), ((0,), ()))
-        self.assertEqual(numbered_goal(((), ((("=", 9, ("s", 4)), (0, False)),))), ((), ((("=", 0, ("s", 1)), (0, False)),)))
+        self.assertEqual(numbered_goal(((), ((("=", 9, ("s", 4)), (0, False)),))),
+                         ((), ((("=", 0, ("s", 1)), (0, False)),)))
 
     def test_numbered_already(self):
         self.assertEqual(numbered_goal(GOAL), GOAL)
@@ -143,7 +144,8 @@ class InversionTest(unittest.TestCase):
 
     def test_refl(self):
         goal = ((0, 1), ((("p", 1, 0), None), (("=", ("f", 0, A), ("f", 1, 2)), (0, False))))
-        self.assertEqual(inversion(goal, 1, REFL), ((0, 0), ((("p", 0, 0), None), (("=", ("f", 0, A), ("f", 0, A)), (0, False)))))
+        self.assertEqual(inversion(goal, 1, REFL),
+                         ((0, 0), ((("p", 0, 0), None), (("=", ("f", 0, A), ("f", 0, A)), (0, False)))))
         self.assertIsNone(inversion(((0,), ((("=", 0, ("s", 0)), None),)), 0, REFL))
         self.assertIsNone(inversion(((0,), ((("=", A, B), None),)), 0, REFL))
         goal = ((0,), ((("=", 0, 0), None), (("=", A, 0), None)))
@@ -174,7 +176,8 @@ class InversionTest(unittest.TestCase):
     def test_the_inverted_hypothesis_stays(self):
         goal = inversion(GOAL, 1, NAT_S)
         self.assertEqual(goal[0], (nested(2, 0),))
-        self.assertEqual(goal[1], ((("nat", nested(2, 0)), (0, False)), (("nat", ("s", 0)), (0, True)), (("nat", 0), (0, True))))
+        self.assertEqual(goal[1],
+                         ((("nat", nested(2, 0)), (0, False)), (("nat", ("s", 0)), (0, True)), (("nat", 0), (0, True))))
         self.assertEqual(inversion(goal, 0, NAT_S)[1], goal[1] + ((("nat", ("s", 0)), (0, True)),))
 
     def test_as_defined(self):
@@ -256,7 +259,8 @@ class InversionLimitsTest(unittest.TestCase):
         eight = [("g",) + 4 * (number,) for number in range(1, 5)]
         rule = ("r", (("t", 0),), ("p", 0, 1, 2, 3, eight[0], eight[1], eight[2], eight[3]))
         self.assertTrue(is_valid_rule(rule))
-        goal = ((0,), ((("p", ("g", 1, 1, 1, 1), ("g", 2, 2, 2, 2), ("g", 3, 3, 3, 3), ("g", 4, 4, 4, 4), 1, 2, 3, 4), None),
+        goal = ((0,),
+                ((("p", ("g", 1, 1, 1, 1), ("g", 2, 2, 2, 2), ("g", 3, 3, 3, 3), ("g", 4, 4, 4, 4), 1, 2, 3, 4), None),
                        (("t", 0), None)))
         self.refused(numbered_goal(goal), 0, rule)
 
@@ -355,7 +359,8 @@ class CaseTest(unittest.TestCase):
                     case_goal(claim, rule)
 
     def test_rules_that_apply(self):
-        atoms = [("p", 0, 1), ("p", ("s", 0), A), ("p", 0, 0), ("p", A, 0), ("p", ("s", 0), 0), ("q", 0, 0), ("=", 0, ("s", 0))]
+        atoms = [("p", 0, 1), ("p", ("s", 0), A), ("p", 0, 0), ("p", A, 0), ("p", ("s", 0), 0), ("q", 0, 0),
+                 ("=", 0, ("s", 0))]
         for premise, conclusion in itertools.product(atoms, atoms[:-1]):
             claim = ("claim", (len(variables_of((premise,))), (premise,), ()), (0,))
             applies = overlaps(premise, conclusion)
@@ -389,7 +394,8 @@ class DisjunctTest(unittest.TestCase):
         """The existential variables are numbered behind the universal ones, as those of the goal may be."""
         statement = (1, (), ((("q", 0, 1, 2),),))
         goal = ((0, 1, 2), ())
-        self.assertEqual(with_disjunct(goal, statement, 0, (("f", 2, 1),)), ((0, 1, 2), ((("q", ("f", 2, 1), 3, 4), None),)))
+        self.assertEqual(with_disjunct(goal, statement, 0, (("f", 2, 1),)),
+                         ((0, 1, 2), ((("q", ("f", 2, 1), 3, 4), None),)))
 
     def test_bounds_stay_and_new_ones_are_none(self):
         self.assertEqual(bounds_of(with_disjunct(GOAL, RIGHT[1], 0, (0,))), ((0, False), (0, True), None))

@@ -6,6 +6,8 @@ import inspect
 import pathlib
 import unittest
 
+from openrules.modules import Module
+
 FUNCTIONS = {
     "terms": ("size_of(term)", "depth_of(term)", "variables_of(terms)", "subterms_of(term)", "relation_of(atom)",
               "substitute(term, pairs)", "numbered(terms)"),
@@ -31,28 +33,23 @@ FUNCTIONS = {
     "modules": ("summaries_of(modules)", "scope_of(summaries)"),
 }
 CLASSES = {"modules": ("Module(parts, imports=())",)}
-PROPERTIES = {"Module": ("parts", "summary", "summaries")}
+PROPERTIES = {Module: ("parts", "summary", "summaries")}
 
 
 class InterfaceTest(unittest.TestCase):
 
-    def test_functions(self):
-        for name, told in FUNCTIONS.items():
+    def test_functions_and_classes(self):
+        for name in FUNCTIONS:
             module = importlib.import_module(f"openrules.{name}")
-            for line in told:
-                function = getattr(module, line.partition("(")[0])
-                self.assertEqual(function.__module__, module.__name__)
-                self.assertEqual(function.__name__ + str(inspect.signature(function)), line)
-
-    def test_classes(self):
-        for name, told in CLASSES.items():
-            module = importlib.import_module(f"openrules.{name}")
-            for line in told:
+            for line in FUNCTIONS[name] + CLASSES.get(name, ()):
                 found = getattr(module, line.partition("(")[0])
                 self.assertEqual(found.__module__, module.__name__)
                 self.assertEqual(found.__name__ + str(inspect.signature(found)), line)
-                for word in PROPERTIES[found.__name__]:
-                    self.assertIsInstance(vars(found)[word], property)
+
+    def test_properties(self):
+        for found, words in PROPERTIES.items():
+            for word in words:
+                self.assertIsInstance(vars(found)[word], property)
 
     def test_the_only_generator(self):
         for name, told in FUNCTIONS.items():

@@ -110,7 +110,8 @@ class DoneTest(StepTest):
         self.fault("hypothesis", ("done", 0, ()), ((0,), ((("add", 0, Z, 1), None),)))
 
     def test_existential_variables(self):
-        goal = ((0,), ((("=", 0, ("s", 1)), None), (("nat", ("s", 2)), None), (("nat", 1), None), (("=", 0, ("s", ONE)), None)))
+        goal = ((0,), ((("=", 0, ("s", 1)), None), (("nat", ("s", 2)), None), (("nat", 1), None),
+                       (("=", 0, ("s", ONE)), None)))
         self.fault("", ("done", 1, (1,)), goal, "natCases")
         self.fault("hypothesis", ("done", 1, (2,)), goal, "natCases")
         self.fault("hypothesis", ("done", 1, (("s", 2),)), goal, "natCases")
@@ -143,7 +144,8 @@ class DoneTest(StepTest):
     def test_all_atoms_of_the_disjunct(self):
         claim = ("both", (1, (("p", 0),), ((("q", 0), ("t", 0)),)), ())
         scope = ((), ((False, (claim,)),))
-        for atoms, fault in (((("q", 0), ("t", 0)), ""), ((("t", 0), ("p", 0), ("q", 0)), ""), ((("q", 0),), "hypothesis"),
+        for atoms, fault in (((("q", 0), ("t", 0)), ""), ((("t", 0), ("p", 0), ("q", 0)), ""),
+                             ((("q", 0),), "hypothesis"),
                              ((("t", 0), ("t", 0)), "hypothesis"), ((), "hypothesis")):
             goal = ((0,), tuple((atom, None) for atom in atoms))
             self.fault(fault, ("done", 0, ()), goal, "both", scope)
@@ -186,7 +188,8 @@ class RuleTest(StepTest):
         self.fault("", ("rule", "any", (A, 0), (1,)), scope=scope)
         self.fault("hypothesis", ("rule", "any", (0, A), (1,)), scope=scope)
         self.fault("term", ("rule", "any", (A,), (1,)), scope=scope)
-        self.assertEqual(goals_after(scope, "addZero", GOAL, ("rule", "any", (A, 0), (1,)))[0][1][2], (("any", A), None))
+        self.assertEqual(goals_after(scope, "addZero", GOAL, ("rule", "any", (A, 0), (1,)))[0][1][2],
+                         (("any", A), None))
 
     def test_order_of_the_terms(self):
         goal = ((), ((("add", A, B, A), None),))
@@ -221,7 +224,8 @@ class RuleTest(StepTest):
     def test_several_premises(self):
         rule = ("both", (("nat", 0), ("nat", 1), ("nat", 0)), ("both", 0, 1))
         scope = ((rule,), SCOPE[1])
-        for numbers, fault in (((0, 1, 0), ""), ((1, 0, 1), "hypothesis"), ((0, 1, 1), "hypothesis"), ((0, 1), "hypothesis"),
+        for numbers, fault in (((0, 1, 0), ""), ((1, 0, 1), "hypothesis"), ((0, 1, 1), "hypothesis"),
+                               ((0, 1), "hypothesis"),
                                ((0, 0, 0), "hypothesis"), ((0, 1, 0, 1), "hypothesis")):
             self.fault(fault, ("rule", "both", (("s", 0), 0), numbers), scope=scope)
         self.fault("", ("rule", "both", (0, 0), (1, 1, 1)), scope=scope)
@@ -277,7 +281,8 @@ class ApplyTest(StepTest):
         self.fault("", ("apply", "more", (0, A), (1,)), scope=scope)
         self.fault("term", ("apply", "more", (0,), (1,)), scope=scope)
         self.fault("term", ("apply", "more", (0, A, A), (1,)), scope=scope)
-        self.assertEqual(goals_after(scope, "addZero", GOAL, ("apply", "more", (0, A), (1,)))[0][1][2], (("p", A, 1), None))
+        self.assertEqual(goals_after(scope, "addZero", GOAL, ("apply", "more", (0, A), (1,)))[0][1][2],
+                         (("p", A, 1), None))
 
     def test_admissible_terms(self):
         claim = ("free", (1, (), ((("p", 0),),)), ())
@@ -307,7 +312,8 @@ class ApplyTest(StepTest):
     def test_positions_of_the_applied_theorem(self):
         """The induction premises of pair are its premise 1, and then its premise 0."""
         for first, second, fault in (
-            ((0, True), None, ""), ((0, False), (1, True), ""), ((0, False), (1, False), "lower"), (None, (1, True), "lower"),
+            ((0, True), None, ""), ((0, False), (1, True), ""), ((0, False), (1, False), "lower"),
+            (None, (1, True), "lower"),
             ((1, True), (0, True), "lower"), ((0, True), (0, True), ""), ((0, False), (0, True), "lower"),
         ):
             goal = ((0, 1), ((("nat", 0), first), (("nat", 1), second)))
@@ -391,7 +397,8 @@ class InvertTest(StepTest):
 class ScopeTest(unittest.TestCase):
 
     def test_any_order(self):
-        steps = (("rule", "natS", (0,), (1,)), ("apply", "addZero", (0,), (1,)), ("apply", "pair", (0, 0), (1, 1)), ("invert", 0))
+        steps = (("rule", "natS", (0,), (1,)), ("apply", "addZero", (0,), (1,)), ("apply", "pair", (0, 0), (1, 1)),
+                 ("invert", 0))
         expected = [after_step(WIDE, "addZero", GOAL, step) for step in steps]
         self.assertNotIn(None, expected)
         scopes = [(rules, WIDE[1]) for rules in itertools.permutations(WIDE[0])]

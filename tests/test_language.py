@@ -28,6 +28,8 @@ STATEMENTS = (
     ast.FunctionDef, ast.ClassDef, ast.Return, ast.Delete, ast.Assign, ast.AugAssign, ast.For, ast.While, ast.If,
     ast.With, ast.Match, ast.Raise, ast.Try, ast.Assert, ast.ImportFrom, ast.Expr, ast.Pass, ast.Break, ast.Continue,
 )
+NO_STARTS = "_wall _pe_ _dcw_ _enum_ _cm_ _twin_re_ _lay_ _law_ _stub_ _sre _WallAttr".split()
+NO_PRIVATE = "_cold _tuplegetter _outside _record _written_out _member_names".split()
 NO_WORDS = ("typing", "enum", "Enum", "Generic", "Protocol", "ABC", "namedtuple", "dataclass", "overload", "random")
 
 
@@ -141,6 +143,21 @@ class CodeTest(unittest.TestCase):
                 self.assertNotIn(word, BUILTIN_NAMES, name)
             for word in bound_names(tree):
                 self.assertNotIn(word, files_own, name)
+
+    def test_private_names(self):
+        for name, tree in trees():
+            words = list(bound_names(tree)) + [node.name for node in ast.walk(tree) if isinstance(node, ast.FunctionDef)]
+            words += [node.attr for node in ast.walk(tree) if isinstance(node, ast.Attribute)]
+            for word in words:
+                self.assertFalse(word.startswith(tuple(NO_STARTS)), (name, word))
+                self.assertNotIn(word.rstrip("_0123456789"), NO_PRIVATE, name)
+
+    def test_what_generator_expressions_go_over(self):
+        """They go over plain values; zip and its kin stand in comprehensions of lists."""
+        for name, node in nodes(ast.GeneratorExp):
+            for part in node.generators:
+                if isinstance(part.iter, ast.Call) and isinstance(part.iter.func, ast.Name):
+                    self.assertNotIn(part.iter.func.id, ("zip", "enumerate", "range", "reversed"), (name, node.lineno))
 
     def test_builtins(self):
         for name, node in nodes(ast.Name):

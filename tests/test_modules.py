@@ -4,7 +4,8 @@ import itertools
 import unittest
 
 from openrules.arguments import argument_depth, step_count
-from openrules.errors import DuplicateModule, DuplicateName, EntryRefused, InvalidClaim, InvalidRule, TooLarge, WrongImports
+from openrules.errors import DuplicateModule, DuplicateName, EntryRefused
+from openrules.errors import InvalidClaim, InvalidRule, TooLarge, WrongImports
 from openrules.goals import case_goal
 from openrules.kernel import check_argument
 from openrules.modules import Module, scope_of, summaries_of
@@ -71,8 +72,10 @@ class ExamplesTest(Raising):
 
     def test_refused(self):
         arith = Module(ARITH_PARTS)
-        self.made(EntryRefused, {"place": 0, "reason": "argument"}, ("more", ("arith",), (), (), (("addZero", "natS", FIRST),)), arith)
-        self.made(DuplicateName, {"name": "natS"}, ("more", ("arith",), (("natS", (), ("nat", ("one",))),), (), ()), arith)
+        self.made(EntryRefused, {"place": 0, "reason": "argument"},
+                  ("more", ("arith",), (), (), (("addZero", "natS", FIRST),)), arith)
+        self.made(DuplicateName, {"name": "natS"},
+                  ("more", ("arith",), (("natS", (), ("nat", ("one",))),), (), ()), arith)
 
     def test_entries_for_imported_theorems_and_rules(self):
         rules = module("rules", rules=NATURALS)
@@ -126,7 +129,8 @@ class OrderTest(Raising):
         first, second = Module(ARITH_PARTS), Module(other)
         self.assertEqual(first.summary, second.summary)
         self.assertEqual(summaries_of((first, second)), (first.summary, second.summary))
-        self.made(DuplicateModule, {"name": "arith"}, ("c", ("b", "d"), (), (), ()), module("b", first), module("d", second))
+        self.made(DuplicateModule, {"name": "arith"}, ("c", ("b", "d"), (), (), ()), module("b", first),
+                  module("d", second))
 
     def test_many_modules(self):
         ones = tuple(module(f"m{number}") for number in range(12))
@@ -174,7 +178,8 @@ class DeclarationsTest(Raising):
 
     def test_invalid_declarations_before_duplicates(self):
         a = module("a", rules=(NAT_Z,))
-        for error, rules, blocks in ((InvalidRule, (NAT_Z, ("bad", (), ("p", 1))), ()), (InvalidClaim, (NAT_Z,), ((True, (("bad",) + ALWAYS[1:],)),))):
+        for error, rules, blocks in ((InvalidRule, (NAT_Z, ("bad", (), ("p", 1))), ()),
+                                     (InvalidClaim, (NAT_Z,), ((True, (("bad",) + ALWAYS[1:],)),))):
             self.made(error, {"name": "bad"}, ("a", ("a",), rules, blocks, (("x", None, DONE),)), a)
 
     def test_duplicate_modules(self):
@@ -329,7 +334,8 @@ class EntriesTest(Raising):
         for count, reason in ((28, None), (29, None), (30, "limits"), (59, "limits")):
             block, rule = self.large(count)
             self.entry(reason, "large", "big", DONE, rules=(rule,), blocks=(block, self.blocks[1]))
-            self.entry(reason or "argument", "large", "big", (("done", 5, ()), ()), rules=(rule,), blocks=(block, self.blocks[1]))
+            self.entry(reason or "argument", "large", "big", (("done", 5, ()), ()), rules=(rule,),
+                       blocks=(block, self.blocks[1]))
 
     def long(self, count):
         """A proof of always with this number of steps, one below the other."""
@@ -383,7 +389,8 @@ class EntriesTest(Raising):
 
     def test_the_first_entry(self):
         good, bad, worse = ("always", None, DONE), ("always", None, (("done", 1, ()), ())), ("none", None, DONE)
-        for entries, place, reason in (((good, bad, worse), 1, "argument"), ((good, good, worse, bad), 2, "claim"), (23 * (good,) + (bad,), 23, "argument")):
+        for entries, place, reason in (((good, bad, worse), 1, "argument"), ((good, good, worse, bad), 2, "claim"),
+                                       (23 * (good,) + (bad,), 23, "argument")):
             self.made(EntryRefused, {"place": place, "reason": reason}, ("m", (), (), ((False, (ALWAYS,)),), entries))
 
     def test_too_large_before_entries(self):
@@ -397,7 +404,8 @@ class EntriesTest(Raising):
         base = module("base", rules=NATURALS, blocks=((False, (claim,)),), entries=(("noT", None, proof),))
         more = module("more", base, rules=(("natT", (), ("nat", ("t", Z))),))
         self.assertEqual(base.summary[4], (("noT", None, (("nat", ("t", 0)),), ()),))
-        self.made(EntryRefused, {"place": 0, "reason": "argument"}, ("last", ("more",), (), (), (("noT", None, proof),)), more)
+        self.made(EntryRefused, {"place": 0, "reason": "argument"},
+                  ("last", ("more",), (), (), (("noT", None, proof),)), more)
         self.assertEqual(module("other", base, entries=(("noT", None, proof),)).summary[4], base.summary[4])
 
     def test_repeated_entries(self):
@@ -410,7 +418,8 @@ class SummaryTest(Raising):
 
     def test_nothing(self):
         made = module("m")
-        self.assertEqual((made.parts, made.summary, made.summaries), (2 * (("m", (), (), (), ()),) + ((("m", (), (), (), ()),),)))
+        self.assertEqual((made.parts, made.summary, made.summaries),
+                         (2 * (("m", (), (), (), ()),) + ((("m", (), (), (), ()),),)))
 
     def test_inverted_atoms_and_applied_theorems(self):
         whole = ("whole", RIGHT[1], (0,))
@@ -418,18 +427,21 @@ class SummaryTest(Raising):
         by_z = (("apply", "other", (Z,), (1,)), (("", (("apply", "whole", (Z,), (1,)), FINISH)),))
         by_s = (("apply", "other", (("s", 0),), (1,)), FINISH)
         case = (("invert", 1), (("natS", by_s), ("natZ", by_z)))
-        made = module("m", rules=NATURALS, blocks=((True, (whole,)), (False, (other,))), entries=(("whole", "natS", case),))
+        made = module("m", rules=NATURALS, blocks=((True, (whole,)), (False, (other,))),
+                      entries=(("whole", "natS", case),))
         self.assertEqual(made.summary[4], (("whole", "natS", (("nat", 0),), ("other", "whole")),))
 
     def test_a_block_of_two(self):
-        rules = (NAT_Z, NAT_S, ("evZ", (), ("even", Z)), ("evS", (("odd", 0),), ("even", ("s", 0))), ("odS", (("even", 0),), ("odd", ("s", 0))))
+        rules = (NAT_Z, NAT_S, ("evZ", (), ("even", Z)), ("evS", (("odd", 0),), ("even", ("s", 0))),
+                 ("odS", (("even", 0),), ("odd", ("s", 0))))
         entries = (
             ("evenNat", "evS", (("apply", "oddNat", (0,), (1,)), (("", (("rule", "natS", (0,), (2,)), FINISH)),))),
             ("oddNat", "odS", (("apply", "evenNat", (0,), (1,)), (("", (("rule", "natS", (0,), (2,)), FINISH)),))),
             ("evenNat", "evZ", (("rule", "natZ", (), ()), FINISH)),
         )
         made = module("m", rules=rules, blocks=((True, (EVEN, ODD)),), entries=entries)
-        expected = (("evenNat", "evS", (), ("oddNat",)), ("oddNat", "odS", (), ("evenNat",)), ("evenNat", "evZ", (), ()))
+        expected = (("evenNat", "evS", (), ("oddNat",)), ("oddNat", "odS", (), ("evenNat",)),
+                    ("evenNat", "evZ", (), ()))
         self.assertEqual(made.summary, ("m", (), rules, ((True, (EVEN, ODD)),), expected))
 
     def test_changes_nothing(self):
@@ -449,11 +461,18 @@ class ScopeOfTest(Raising):
     def test_sorted_by_name(self):
         rules = tuple(fact(name) for name in ("b", "aB", "a", "ab", "a1", "c"))
         blocks = (plain("z", "d"), plain("y"), plain("x", "w", "e"), plain("yY"))
-        expected = (tuple(fact(name) for name in ("a", "a1", "aB", "ab", "b", "c")), (blocks[2], blocks[1], blocks[3], blocks[0]))
+        expected = (tuple(fact(name) for name in ("a", "a1", "aB", "ab", "b", "c")),
+                    (blocks[2], blocks[1], blocks[3], blocks[0]))
         self.assertEqual(scope_of((summary("m", rules, blocks),)), expected)
         for order in itertools.permutations(range(3)):
-            told = [summary(f"m{place}", rules[2 * place:2 * place + 2], blocks[place:place + 1 + place // 2]) for place in range(3)]
+            told = [summary(f"m{place}", rules[2 * place:2 * place + 2], blocks[place:place + 1 + place // 2])
+                    for place in range(3)]
             self.assertEqual(scope_of(tuple(told[place] for place in order)), expected)
+
+    def test_the_name_of_a_block_is_that_of_its_first_theorem(self):
+        blocks = ((True, (RIGHT,)), (True, (EVEN, ODD)))
+        self.assertEqual(scope_of((summary("m", (), blocks[::-1]),)), ((), blocks))
+        self.assertEqual(scope_of((summary("m", (), (plain("m"), (True, (ODD, EVEN)))),))[1][1], (True, (ODD, EVEN)))
 
     def test_the_scope_accepts_what_the_modules_do(self):
         arith = Module(ARITH_PARTS)
@@ -466,7 +485,8 @@ class ScopeOfTest(Raising):
         self.refused(DuplicateModule, {"name": "a"}, scope_of, (summary("a"), summary("a")))
 
     def test_duplicate_modules_before_duplicate_names(self):
-        self.refused(DuplicateModule, {"name": "a"}, scope_of, (summary("a", (NAT_Z, NAT_Z)), summary("b"), summary("a")))
+        self.refused(DuplicateModule, {"name": "a"}, scope_of,
+                     (summary("a", (NAT_Z, NAT_Z)), summary("b"), summary("a")))
 
     def test_duplicate_names(self):
         told = (summary("a", (fact("x"),), (plain("y"),)), summary("b", (fact("z"),), (plain("u", "y"), plain("x"))))
