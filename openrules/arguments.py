@@ -4,9 +4,9 @@ from openrules.deciding import check_decision
 from openrules.decisions import needed_steps, terms_of_step
 from openrules.errors import TooLarge, WrongDecision
 from openrules.goals import atoms_of_goal, initial_goal
-from openrules.kernel import after_step, check_argument, done_atoms
+from openrules.kernel import check_argument, done_atoms, goals_after
 from openrules.scopes import claim_in
-from openrules.statements import existentials_of
+from openrules.statements import is_without_choice
 from openrules.terms import key_of, numbered
 
 MOST_STEPS = 100
@@ -48,16 +48,15 @@ def inverted_atoms(scope, claim, goal, argument):
         if step[0] == "invert":
             atom = numbered((atoms_of_goal(here)[step[1]],))[0]
             found.setdefault(key_of(atom), atom)
-        inner = _parts_with_goals(scope, claim, here, (step, parts))
+        inner = parts_with_goals(scope, here, (step, parts))
         waiting.extend(inner[::-1])
     return tuple(found.values())
 
 
-def _parts_with_goals(scope, claim, goal, argument):
-    """Return the list of the pairs of a goal that the first step leaves and its proof."""
+def parts_with_goals(scope, goal, argument):
+    """Return the list of the pairs of a goal that the first step leaves and its proof, which is accepted."""
     step, parts = argument
-    goals = after_step(scope, claim, goal, step)
-    return [(left, part) for (_, left), (_, part) in zip(goals, parts)]
+    return [(left, part) for (_, left), (_, part) in zip(goals_after(scope, goal, step), parts)]
 
 
 def applied_claims(argument):
@@ -74,7 +73,7 @@ def trimmed(scope, claim, goal, argument):
 def _trimmed(scope, claim, goal, argument):
     """Return the trimmed proof, and the list of the numbers of the hypotheses of this goal that its steps use."""
     step, parts = argument
-    pairs = _parts_with_goals(scope, claim, goal, argument)
+    pairs = parts_with_goals(scope, goal, argument)
     inner = [_trimmed(scope, claim, left, part) for left, part in pairs]
     count = len(goal[1])
     used = {number: True for _, numbers in inner for number in numbers}
@@ -90,19 +89,23 @@ def _trimmed(scope, claim, goal, argument):
 def _is_removable(scope, step):
     """Return whether the step is one that leaves its goal as it is, but for further hypotheses."""
     if step[0] == "apply":
-        universals, _, disjuncts = claim_in(scope, step[1])[1]
-        return len(disjuncts) == 1 and not existentials_of(universals, disjuncts[0])
+        return is_without_choice(claim_in(scope, step[1])[1])
     return step[0] == "rule"
 
 
 def _used_by_step(claim, goal, step):
     """Return the numbers of the hypotheses that the step uses; `claim` is the theorem that is proved."""
     if step[0] == "done":
-        known = atoms_of_goal(goal)
-        return [known.index(atom) for atom in done_atoms(claim, goal, step)]
+        return done_hypotheses(claim, goal, step)
     if step[0] == "invert":
         return [step[1]]
     return list(step[3])
+
+
+def done_hypotheses(claim, goal, step):
+    """Return the list of the numbers of the first hypotheses with the atoms that a done step needs."""
+    known = atoms_of_goal(goal)
+    return [known.index(atom) for atom in done_atoms(claim, goal, step)]
 
 
 def _lowered(argument, first, by):

@@ -1,8 +1,10 @@
-"""The goal that an entry of a module has to prove, and why an entry can be refused."""
+"""The entries that a theorem needs, the goal that an entry has to prove, and why an entry can be refused."""
 
 from openrules.errors import TooLarge
 from openrules.goals import case_goal, initial_goal
+from openrules.rules import by_name
 from openrules.scopes import block_with, claim_in, rule_in
+from openrules.unification import overlaps
 
 
 def goal_of_entry(scope, name, rule_name):
@@ -29,3 +31,9 @@ def goal_of_entry(scope, name, rule_name):
     if goal is None:
         return ("case", None)
     return (None, goal)
+
+
+def rules_applying(rules, claim):
+    """Return the names of the rules and refl, by name, that apply to the theorem, which has induction premises."""
+    _, (_, premises, _), induction = claim
+    return tuple(rule[0] for rule in by_name(rules) if overlaps(premises[induction[0]], rule[2]))

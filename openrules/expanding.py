@@ -3,14 +3,11 @@
 from openrules.deciding import check_decision
 from openrules.decisions import needed_steps, terms_of_step
 from openrules.derivations import fact_of
-from openrules.errors import TooLarge, WrongDecision, WrongDerivation
+from openrules.errors import WrongDecision, WrongDerivation
 from openrules.statements import statement_of_rule
-from openrules.terms import depth_of, instance_of, size_of, substitute, variables_of
+from openrules.terms import instance_of, substitute, variables_of
+from openrules.weights import joined, require_small
 
-MOST_RULES = 2000
-MOST_HEIGHT = 60
-MOST_SIZE = 200
-MOST_DEPTH = 40
 ANY = ("any",)
 
 
@@ -49,13 +46,13 @@ def _recipe(rules, statement, decision):
 
 
 def _expanded(extra, recipe, derivation):
-    """Return the number of rules, the height and the derivation itself, expanded.
+    """Return the weighed derivation that results from expanding the derivation.
 
     Only what becomes part of the result is expanded, so that the first part that is too large may be refused.
     """
     name, terms, derivations = derivation
     if name != extra[0]:
-        return _made(name, terms, [_expanded(extra, recipe, inner) for inner in derivations])
+        return joined(name, terms, tuple(_expanded(extra, recipe, inner) for inner in derivations))
     meant = _meanings(extra, terms)
     parts = {}
     for number, rule, needed, numbers in recipe:
@@ -63,7 +60,8 @@ def _expanded(extra, recipe, derivation):
             part = _expanded(extra, recipe, derivations[numbers[0]])
         else:
             chosen = tuple(instance_of(term, meant) for term in needed)
-            part = _made(rule, chosen, [parts[earlier] for earlier in numbers])
+            require_small(chosen)
+            part = joined(rule, chosen, tuple(parts[earlier] for earlier in numbers))
         parts[number] = part
     return part
 
@@ -72,14 +70,3 @@ def _meanings(extra, terms):
     """Return a dict of the terms for which the variables of the statement stand that `extra` is."""
     _, premises, conclusion = extra
     return {place: terms[variable] for place, variable in enumerate(variables_of(premises + (conclusion,)))}
-
-
-def _made(name, terms, parts):
-    """Return the number of rules, the height and the derivation with these parts, of which the same is told."""
-    count = 1 + sum([part[0] for part in parts])
-    height = 1 + max([part[1] for part in parts], default=0)
-    if count > MOST_RULES or height > MOST_HEIGHT:
-        raise TooLarge()
-    if any(size_of(term) > MOST_SIZE or depth_of(term) > MOST_DEPTH for term in terms):
-        raise TooLarge()
-    return (count, height, (name, terms, tuple(part[2] for part in parts)))

@@ -4,13 +4,12 @@ Whatever a unifier does to a goal is measured before it is written out; see unif
 """
 
 from openrules.errors import TooLarge
-from openrules.rules import by_name
+from openrules.rules import by_name, variables_of_rule
 from openrules.statements import existentials_of
 from openrules.terms import instance_of, numbered, shifted, variables_of
 from openrules.unifiers import measured, unified, unifier_of
 from openrules.validity import is_small
 
-MOST_VALUES = 12
 MOST_HYPOTHESES = 30
 MOST_SIZE = 400
 
@@ -41,8 +40,7 @@ def in_limits(goal):
 
 def _fits(goal, unifier):
     """Return whether the goal is within the limits after the unifier is applied."""
-    values, hypotheses = goal
-    if len(values) > MOST_VALUES or len(hypotheses) > MOST_HYPOTHESES:
+    if len(goal[1]) > MOST_HYPOTHESES:
         return False
     measures = [measured(term, unifier) for term in terms_of_goal(goal)]
     if not all(is_small(size, depth) for size, depth in measures):
@@ -71,23 +69,46 @@ def initial_goal(claim):
     return (tuple(range(universals)), tuple(hypotheses))
 
 
+def _unifier_for(goal, hypothesis, rule):
+    """Return a unifier of the hypothesis and the conclusion of the rule, whose variables are new ones, or None."""
+    return unifier_of(goal[1][hypothesis][0], shifted(rule[2], _first_new_variable(goal)))
+
+
+def _with_premises(goal, hypothesis, rule):
+    """Return the goal with the premises of the rule, whose variables are new ones, as further hypotheses."""
+    values, hypotheses = goal
+    _, bound = hypotheses[hypothesis]
+    lower = None
+    if bound is not None:
+        lower = (bound[0], True)
+    new = _first_new_variable(goal)
+    return (values, hypotheses + tuple((shifted(premise, new), lower) for premise in rule[1]))
+
+
 def inversion(goal, hypothesis, rule):
     """Return the goal to which inverting the hypothesis by the rule leads, or None.
 
     Raises TooLarge if this goal is not within the limits.
     """
-    values, hypotheses = goal
-    atom, bound = hypotheses[hypothesis]
-    new = _first_new_variable(goal)
-    _, premises, conclusion = rule
-    unifier = unifier_of(atom, shifted(conclusion, new))
+    unifier = _unifier_for(goal, hypothesis, rule)
     if unifier is None:
         return None
-    lower = None
-    if bound is not None:
-        lower = (bound[0], True)
-    added = tuple((shifted(premise, new), lower) for premise in premises)
-    return _after((values, hypotheses + added), unifier)
+    return _after(_with_premises(goal, hypothesis, rule), unifier)
+
+
+def replacements(goal, hypothesis, rule):
+    """Return what replaces the variables of the goal, and those of the rule, when the hypothesis is inverted.
+
+    These are two tuples, in ascending order of the variables that are replaced. Inverting leads to a goal
+    within the limits; the variables of the replacements are those of this goal.
+    """
+    unifier = _unifier_for(goal, hypothesis, rule)
+    terms = [unified(term, unifier) for term in terms_of_goal(_with_premises(goal, hypothesis, rule))]
+    table = {variable: number for number, variable in enumerate(variables_of(terms))}
+    new = _first_new_variable(goal)
+    count = new + len(variables_of_rule(rule))
+    replaced = [instance_of(unified(variable, unifier), table) for variable in range(count)]
+    return (tuple(replaced[:new]), tuple(replaced[new:]))
 
 
 def inversions(rules, goal, hypothesis):

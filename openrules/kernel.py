@@ -41,7 +41,7 @@ def outcome(scope, claim, goal, step):
     if fault is not None:
         return (fault, ())
     try:
-        return (None, _goals_after(scope, goal, step))
+        return (None, goals_after(scope, goal, step))
     except TooLarge:
         return ("limits", ())
 
@@ -81,16 +81,22 @@ def _fault_of_rule(scope, goal, step):
 
 
 def _fault_of_apply(scope, claim, goal, step):
-    _, name, _, hypotheses = step
-    applied = claim_in(scope, name)
+    applied = claim_in(scope, step[1])
     if applied is None:
         return "claim"
-    _, (universals, premises, _), induction = applied
+    universals, premises, _ = applied[1]
     fault = _fault_of_use(goal, premises, universals, step)
-    if fault is None and name in names_of_claims(block_with(scope, claim)):
-        if not is_lower([goal[1][hypotheses[number]][1] for number in induction]):
-            return "lower"
+    if fault is None and not may_apply(scope, claim, goal, step):
+        return "lower"
     return fault
+
+
+def may_apply(scope, claim, goal, step):
+    """Return whether the theorem of an apply step is not of the block that is proved, or the hypotheses are lower."""
+    _, name, _, hypotheses = step
+    if name not in names_of_claims(block_with(scope, claim)):
+        return True
+    return is_lower([goal[1][hypotheses[number]][1] for number in claim_in(scope, name)[2]])
 
 
 def _fault_of_use(goal, premises, count, step):
@@ -116,7 +122,7 @@ def _are_premises(goal, hypotheses, premises, terms):
     return [known[number] for number in hypotheses] == [substitute(premise, pairs) for premise in premises]
 
 
-def _goals_after(scope, goal, step):
+def goals_after(scope, goal, step):
     """Return the pairs (label, goal) that a step without a fault leaves; raises TooLarge if one is too large."""
     kind = step[0]
     if kind == "rule":

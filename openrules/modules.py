@@ -76,12 +76,30 @@ def scope_of(summaries):
     twice = repeated(names_declared(summaries))
     if twice:
         raise DuplicateName(twice[0])
-    rules = [rule for summary in summaries for rule in summary[2]]
-    blocks = [block for summary in summaries for block in summary[3]]
-    claims = [claim for block in blocks for claim in block[1]]
-    if len(summaries) > MOST_MODULES or len(rules) > MOST_RULES or len(claims) > MOST_CLAIMS:
+    require_few(summaries)
+    rules = sorted(rules_declared(summaries), key=lambda rule: rule[0])
+    blocks = sorted(blocks_declared(summaries), key=name_of_block)
+    return (tuple(rules), tuple(blocks))
+
+
+def require_few(summaries):
+    """Raise TooLarge if there are too many modules, or if these have too many rules or theorems.
+
+    What has a name that occurs repeatedly counts each time.
+    """
+    claims = [claim for block in blocks_declared(summaries) for claim in block[1]]
+    if len(summaries) > MOST_MODULES or len(rules_declared(summaries)) > MOST_RULES or len(claims) > MOST_CLAIMS:
         raise TooLarge()
-    return (tuple(sorted(rules, key=lambda rule: rule[0])), tuple(sorted(blocks, key=name_of_block)))
+
+
+def rules_declared(summaries):
+    """Return the list of all rules, summary by summary."""
+    return [rule for summary in summaries for rule in summary[2]]
+
+
+def blocks_declared(summaries):
+    """Return the list of all blocks, summary by summary."""
+    return [block for summary in summaries for block in summary[3]]
 
 
 def names_declared(summaries):

@@ -4,8 +4,8 @@ from openrules.choices import choice_count, choices_of
 from openrules.errors import TooLarge
 from openrules.rules import numbered_rule
 from openrules.terms import instance_of, key_of, substitute, variables_of
-from openrules.unifiers import measured, unified, unifier_of
-from openrules.validity import is_equation, is_small, is_valid_atom
+from openrules.unifiers import are_small, unified, unifier_of
+from openrules.validity import is_equation, is_valid_atom
 
 MOST_PREMISES = 4
 MOST_DISJUNCTS = 4
@@ -18,6 +18,12 @@ MOST_CHOICES = 1000
 def existentials_of(universals, disjunct):
     """Return the existential variables of the disjunct of a statement with so many universal ones."""
     return tuple(variable for variable in variables_of(disjunct) if variable >= universals)
+
+
+def is_without_choice(statement):
+    """Return whether the statement has exactly one disjunct, without existential variables."""
+    universals, _, disjuncts = statement
+    return len(disjuncts) == 1 and not existentials_of(universals, disjuncts[0])
 
 
 def atoms_of_statement(premises, disjuncts):
@@ -103,8 +109,7 @@ def without_equation(statement, number):
     if unifier is None:
         return None
     others = premises[:number] + premises[number + 1:]
-    measures = [measured(atom, unifier) for atom in atoms_of_statement(others, disjuncts)]
-    if not all(is_small(size, depth) for size, depth in measures):
+    if not are_small(atoms_of_statement(others, disjuncts), unifier):
         raise TooLarge()
     kept = tuple(_all_unified(disjunct, unifier) for disjunct in disjuncts)
     return _renumbered(universals, _all_unified(others, unifier), kept)

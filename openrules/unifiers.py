@@ -6,6 +6,7 @@ space only because equal parts of it are one object. So look at the sizes first.
 """
 
 from openrules.terms import instance_of, key_of, relation_of, subterms_of
+from openrules.validity import is_small
 
 
 def unifier_of(left, right):
@@ -33,9 +34,20 @@ def measured(term, unifier):
     return _around([measured(part, unifier) for part in term[1:]])
 
 
+def are_small(atoms, unifier):
+    """Return whether the atoms have the size and the depth of valid ones after the unifier is applied."""
+    measures = [measured(atom, unifier) for atom in atoms]
+    return all(is_small(size, depth) for size, depth in measures)
+
+
+def replaced_by(unifier):
+    """Return the dict of the terms that replace the variables."""
+    return {variable: unifier[variable][2] for variable in unifier}
+
+
 def unified(term, unifier):
     """Return the term to which the unifier leads."""
-    return instance_of(term, {variable: unifier[variable][2] for variable in unifier})
+    return instance_of(term, replaced_by(unifier))
 
 
 def _is_clash(left, right):

@@ -1,4 +1,6 @@
-"""Rules and terms that several tests use."""
+"""Rules, terms, theorems and modules that several tests use."""
+
+from openrules.modules import Module
 
 NAT_Z = ("natZ", (), ("nat", ("z",)))
 NAT_S = ("natS", (("nat", 0),), ("nat", ("s", 0)))
@@ -18,6 +20,40 @@ FIRST = (("rule", "addZ", (Z,), ()), FINISH)
 LATER = (("apply", "addZero", (0,), (1,)), (("", (("rule", "addS", (0, Z, 0), (2,)), FINISH)),))
 SCOPE = (NATURALS, ((True, (RIGHT,)),))
 GOAL = ((("s", 0),), ((("nat", ("s", 0)), (0, False)), (("nat", 0), (0, True))))
+
+
+NAT_T = ("natT", (("nat", 0),), ("nat", ("t", 0)))
+ADD_T = ("addT", (("add", 0, 1, 2),), ("add", ("t", 0), 1, ("t", 2)))
+EXTRA = (("apply", "addZero", (0,), (1,)), (("", (("rule", "addT", (0, Z, 0), (2,)), FINISH)),))
+
+
+def module(name, *imports, rules=(), blocks=(), entries=()):
+    """A module that imports these modules."""
+    return Module((name, tuple(imported.parts[0] for imported in imports), rules, blocks, entries), imports)
+
+
+def arithmetic():
+    """The three modules of the first examples of the document."""
+    arith = module("arith", rules=NATURALS, blocks=((True, (RIGHT,)),),
+                   entries=(("addZero", "natZ", FIRST), ("addZero", "natS", LATER)))
+    twice = module("twice", arith, rules=(NAT_T, ADD_T))
+    return arith, twice, module("cases", twice, entries=(("addZero", "natT", EXTRA),))
+
+
+def chain(*steps):
+    """The proof of these steps, each with one part without a label, and the last one without parts."""
+    argument = (steps[-1], ())
+    for step in steps[-2::-1]:
+        argument = (step, (("", argument),))
+    return argument
+
+
+def number(count):
+    """The derivation of nat(s(s(..(z)..))) with `count` times s."""
+    derivation = ("natZ", (), ())
+    for place in range(count):
+        derivation = ("natS", (nested(place, Z),), (derivation,))
+    return derivation
 
 
 def nested(count, inner):

@@ -11,7 +11,7 @@ from openrules.errors import HasExistentials, TooLarge, WrongDecision
 from openrules.goals import initial_goal
 from openrules.kernel import check_argument
 from openrules.statements import is_valid_statement, numbered_statement
-from samples import ADD_S, ADD_Z, FINISH, FIRST, GOAL, LATER, NATURALS, ONE, RIGHT, SCOPE, Z, broad, nested
+from samples import ADD_S, ADD_Z, FINISH, FIRST, GOAL, LATER, NATURALS, ONE, RIGHT, SCOPE, Z, broad, chain, nested
 
 A, B = ("a",), ("b",)
 P, Q, R = ("p",), ("q",), ("r",)
@@ -21,14 +21,6 @@ SOME = ("some", (1, (("nat", 0),), ((("add", 1, 1, 0),),)), ())
 TWICE = ("twice", (1, (("nat", 0),), ((("even", 0), ("odd", 0)),)), ())
 NEVER = ("never", (1, (("nat", ("t", 0)),), ()), ())
 WIDE = (NATURALS, ((True, (RIGHT,)), (False, (CASES,)), (False, (SOME,)), (False, (TWICE,)), (False, (NEVER,))))
-
-
-def chain(*steps):
-    """The proof of these steps, each with one part without a label, and the last one without parts."""
-    argument = (steps[-1], ())
-    for step in steps[-2::-1]:
-        argument = (step, (("", argument),))
-    return argument
 
 
 def chained(argument):

@@ -9,17 +9,12 @@ from openrules.errors import InvalidClaim, InvalidRule, TooLarge, WrongImports
 from openrules.goals import case_goal
 from openrules.kernel import check_argument
 from openrules.modules import Module, scope_of, summaries_of
-from samples import ADD_S, ADD_Z, EVEN, FINISH, FIRST, LATER, NAT_S, NAT_Z, NATURALS, ODD, RIGHT, Z, broad
+from samples import ADD_S, ADD_Z, EVEN, FINISH, FIRST, LATER, NAT_S, NAT_Z, NATURALS, ODD, RIGHT, Z, broad, module
 
 P, Q = ("p",), ("q",)
 ARITH_PARTS = ("arith", (), NATURALS, ((True, (RIGHT,)),), (("addZero", "natZ", FIRST), ("addZero", "natS", LATER)))
 DONE = (("done", 0, ()), ())
 ALWAYS = ("always", (1, (("p", 0),), ((("p", 0),),)), ())
-
-
-def module(name, *imports, rules=(), blocks=(), entries=()):
-    """A module that imports these modules."""
-    return Module((name, tuple(imported.parts[0] for imported in imports), rules, blocks, entries), imports)
 
 
 def fact(name):
