@@ -1,6 +1,5 @@
 """Systems: modules that are linked, and whose theorems can be carried out."""
 
-from openrules.claims import name_of_block
 from openrules.deciding import decide
 from openrules.derivations import fact_of
 from openrules.errors import LinkProblems, UnknownClaim, WrongDerivation

@@ -3,10 +3,10 @@
 In the searches here, an integer is a variable of the goal, which is like a name, and a string is a search variable.
 """
 
-from openrules.claims import name_of_block, names_of_claims
+from openrules.claims import names_of_claims
 from openrules.derivations import fact_of, height_of, rules_in
 from openrules.goals import atoms_of_goal, case_goal, initial_goal
-from openrules.kernel import check_argument, outcome
+from openrules.kernel import outcome
 from openrules.rules import by_name, rule_named, variables_of_rule
 from openrules.scopes import block_with, claim_in, rule_in
 from openrules.statements import existentials_of

@@ -11,7 +11,7 @@ from openrules.errors import HasExistentials, TooLarge, WrongDecision
 from openrules.goals import initial_goal
 from openrules.kernel import check_argument
 from openrules.statements import is_valid_statement, numbered_statement
-from samples import ADD_S, ADD_Z, FINISH, FIRST, GOAL, LATER, NATURALS, ONE, RIGHT, SCOPE, Z, broad, chain, nested
+from samples import ADD_S, FINISH, FIRST, GOAL, LATER, NATURALS, ONE, RIGHT, Z, broad, chain, nested
 
 A, B = ("a",), ("b",)
 P, Q, R = ("p",), ("q",), ("r",)

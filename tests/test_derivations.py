@@ -4,7 +4,7 @@ import itertools
 import unittest
 
 from openrules.derivations import fact_of, height_of, rules_in
-from samples import ADD_S, ADD_Z, NAT_S, NAT_Z, NATURALS, ONE, TWO, Z, broad, nested
+from samples import ADD_S, ADD_Z, NAT_Z, NATURALS, ONE, TWO, Z, broad, nested
 
 SUM_ONE = ("addS", (Z, Z, Z), (("addZ", (Z,), ()),))
 LEAF = ("leaf", (), ("t", 0))

@@ -7,6 +7,8 @@ import pathlib
 import unittest
 
 from openrules.modules import Module
+from openrules.sessions import Session
+from openrules.systems import System
 
 FUNCTIONS = {
     "terms": ("size_of(term)", "depth_of(term)", "variables_of(terms)", "subterms_of(term)", "relation_of(atom)",
@@ -31,17 +33,37 @@ FUNCTIONS = {
                   "inverted_atoms(scope, claim, goal, argument)", "applied_claims(argument)",
                   "trimmed(scope, claim, goal, argument)", "argument_of(rules, statement, decision)"),
     "modules": ("summaries_of(modules)", "scope_of(summaries)"),
+    "linking": ("problems_of(summaries)", "block_order(summaries)"),
+    "plans": ("plan_of(scope, entries)",),
+    "machine": ("run_plan(plan, claim, terms, derivations)",),
+    "systems": ("link(modules)",),
+    "tactics": ("run_tactic(scope, claim, goal, tactic)", "filled(argument, arguments)"),
+    "numbers": ("numbers_of(parts)",),
+    "reading": ("parts_of(numbers)",),
 }
-CLASSES = {"modules": ("Module(parts, imports=())",)}
-PROPERTIES = {Module: ("parts", "summary", "summaries")}
+CLASSES = {
+    "modules": ("Module(parts, imports=())",),
+    "systems": ("System(scope, entries)",),
+    "sessions": ("Session(scope, claim, *, rule=None)",),
+}
+PROPERTIES = {
+    Module: ("parts", "summary", "summaries"),
+    System: ("rules", "blocks", "claims"),
+    Session: ("goals", "script", "argument"),
+}
+METHODS = {
+    System: ("__len__(self)", "__contains__(self, name)", "__iter__(self)", "decide(self, statement)",
+             "make_plan(self)", "carry_out(self, claim, terms, derivations)"),
+    Session: ("run(self, tactic)", "undo(self)"),
+}
 
 
 class InterfaceTest(unittest.TestCase):
 
     def test_functions_and_classes(self):
-        for name in FUNCTIONS:
+        for name in list(FUNCTIONS) + list(CLASSES):
             module = importlib.import_module(f"openrules.{name}")
-            for line in FUNCTIONS[name] + CLASSES.get(name, ()):
+            for line in FUNCTIONS.get(name, ()) + CLASSES.get(name, ()):
                 found = getattr(module, line.partition("(")[0])
                 self.assertEqual(found.__module__, module.__name__)
                 self.assertEqual(found.__name__ + str(inspect.signature(found)), line)
@@ -50,6 +72,12 @@ class InterfaceTest(unittest.TestCase):
         for found, words in PROPERTIES.items():
             for word in words:
                 self.assertIsInstance(vars(found)[word], property)
+
+    def test_methods_are_defined_in_the_class_itself(self):
+        for found, lines in METHODS.items():
+            for line in lines:
+                method = vars(found)[line.partition("(")[0]]
+                self.assertEqual(method.__name__ + str(inspect.signature(method)), line)
 
     def test_the_only_generator(self):
         for name, told in FUNCTIONS.items():

@@ -7,7 +7,7 @@ from openrules.goals import case_goal, in_limits, initial_goal, inversions, numb
 from openrules.kernel import after_step, check_argument, is_lower
 from openrules.rules import is_valid_rule
 from openrules.statements import is_valid_statement
-from samples import ADD_S, ADD_Z, EVEN, FINISH, FIRST, GOAL, LATER, NAT_S, NAT_Z, NATURALS, ODD, ONE, RIGHT, SCOPE, Z
+from samples import ADD_S, ADD_Z, EVEN, FINISH, FIRST, GOAL, LATER, NAT_Z, NATURALS, ODD, ONE, RIGHT, SCOPE, Z
 from samples import broad, doubling_case, nested
 
 A, B = ("a",), ("b",)

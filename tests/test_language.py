@@ -146,7 +146,8 @@ class CodeTest(unittest.TestCase):
 
     def test_private_names(self):
         for name, tree in trees():
-            words = list(bound_names(tree)) + [node.name for node in ast.walk(tree) if isinstance(node, ast.FunctionDef)]
+            words = list(bound_names(tree))
+            words += [node.name for node in ast.walk(tree) if isinstance(node, ast.FunctionDef)]
             words += [node.attr for node in ast.walk(tree) if isinstance(node, ast.Attribute)]
             for word in words:
                 self.assertFalse(word.startswith(tuple(NO_STARTS)), (name, word))

@@ -215,7 +215,8 @@ class NewCaseTest(LinkingTest):
     def test_the_order_of_entries(self):
         blocks = (plain("y", "x"), cases("c", P))
         entries = (("y", None, (P,), ()), ("c", "o", (P,), ()), ("x", None, (P,), ()))
-        self.problems((("new case", "y", None, P, "p"), ("new case", "c", "o", P, "p"), ("new case", "x", None, P, "p")),
+        self.problems((("new case", "y", None, P, "p"), ("new case", "c", "o", P, "p"),
+                       ("new case", "x", None, P, "p")),
                       summary("m", (), (fact("o"),), blocks, entries),
                       summary("n", ("m",), (fact("p"),), (), (("c", "p", (P,), ()),)))
 

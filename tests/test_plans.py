@@ -95,7 +95,8 @@ class ProgramTest(unittest.TestCase):
 
     def test_open_theorems_have_a_case_for_each_rule_by_name(self):
         claim = ("c", (2, (P, ("p", 0), ("p", 1)), ((P,),)), (2, 1))
-        rules = (("b", (), ("p", 0)), ("aB", (("p", 1),), ("p", ("s", 0))), ("none", (), ("q", 0)), ("ab", (), ("p", Z)))
+        rules = (("b", (), ("p", 0)), ("aB", (("p", 1),), ("p", ("s", 0))), ("none", (), ("q", 0)),
+                 ("ab", (), ("p", Z)))
         entries = tuple(("c", name, (("done", 0, ()), ())) for name in ("ab", "b", "aB"))
         done = ("done", 0, (), (0,))
         self.assertEqual(plan_of((rules, ((True, (claim,)),)), entries), (("c", ("switch", 2, (
@@ -178,7 +179,8 @@ class SourcesTest(unittest.TestCase):
 
     def test_variables_that_become_equal(self):
         self.sources((("goal", 0, ()),), (2, (("p", 0, 1),), ((("p", 0, 1),),)), 0, ("r", (), ("p", 0, 0)))
-        self.sources((("goal", 0, ()), ("goal", 1, ())), (2, (("p", 0, 1),), ((("p", 0, 1),),)), 0, ("r", (), ("p", 0, 1)))
+        self.sources((("goal", 0, ()), ("goal", 1, ())), (2, (("p", 0, 1),), ((("p", 0, 1),),)), 0,
+                     ("r", (), ("p", 0, 1)))
 
     def test_a_hypothesis_with_more_than_the_rule_says(self):
         statement = (2, (("p", ("s", 0), 1),), ((("p", ("s", 0), 1),),))

@@ -120,7 +120,8 @@ class LinkTest(SystemsTest):
 
     def test_problems_are_those_of_the_summaries(self):
         twin = module("arith", rules=NATURALS)
-        for modules in ((self.twice,), (self.arith, twin), (twin, self.twice), (twin, module("b", rules=(fact("natS"),)))):
+        for modules in ((self.twice,), (self.arith, twin), (twin, self.twice),
+                        (twin, module("b", rules=(fact("natS"),)))):
             problems = problems_of(summaries_of(modules))
             self.assertTrue(problems)
             self.refused(LinkProblems, {"problems": problems}, link, modules)
@@ -250,7 +251,8 @@ class StepsTest(SystemsTest):
                          (nested(count, Z),), number(count))
 
     def test_variables_that_come_behind_those_of_the_goal(self):
-        block = plain("two", (2, (("nat", 0), ("nat", 1)), ((("nat", 1), ("nat", 2), ("=", 0, ("s", 2))), (("nat", Z),))))
+        disjuncts = ((("nat", 1), ("nat", 2), ("=", 0, ("s", 2))), (("nat", Z),))
+        block = plain("two", (2, (("nat", 0), ("nat", 1)), disjuncts))
         inner = (("apply", "split", (1,), (1,)), (
             ("", chain(("rule", "natZ", (), ()), ("done", 1, ()))),
             ("", (("done", 0, (2,)), ())),
@@ -355,7 +357,8 @@ class StepsTest(SystemsTest):
         derivation = ("natS", (("t", Z),), (("natT", (Z,), (number(0),)),))
         term = ("s", ("t", Z))
         added = ("addS", (("t", Z), Z, ("t", Z)), (("addT", (Z, Z, Z), (("addZ", (Z,), ()),)),))
-        self.carries((0, (), (added, ("natS", (term,), (derivation,)))), (more, with_cases), "again", (term,), derivation)
+        self.carries((0, (), (added, ("natS", (term,), (derivation,)))), (more, with_cases), "again", (term,),
+                     derivation)
 
     def test_a_block_of_two(self):
         rules = (NAT_Z, NAT_S, ("evZ", (), ("even", Z)), ("evS", (("odd", 0),), ("even", ("s", 0))),
@@ -377,7 +380,8 @@ class StepsTest(SystemsTest):
         block = cases("second", (2, (("nat", 0), ("nat", 1)), ((("nat", ("f", 0, 1)),),)), 1)
         rules = (NAT_Z, NAT_S, ("natF", (("nat", 0), ("nat", 1)), ("nat", ("f", 0, 1))))
         entries = (("second", "natF", chain(("rule", "natF", (0, ("f", 1, 2)), (0, 1)), ("done", 0, ()))),
-                   ("second", "natS", chain(("apply", "second", (0, 1), (0, 2)), ("rule", "natF", (0, ("s", 1)), (0, 1)),
+                   ("second", "natS", chain(("apply", "second", (0, 1), (0, 2)),
+                                            ("rule", "natF", (0, ("s", 1)), (0, 1)),
                                             ("done", 0, ()))),
                    ("second", "natZ", chain(("rule", "natF", (0, Z), (0, 1)), ("done", 0, ()))))
         made = (module("m", rules=rules, blocks=(block,), entries=entries),)
@@ -413,7 +417,8 @@ class ErrorsTest(SystemsTest):
 
     def test_the_first_wrong_one(self):
         statement = (2, (("nat", 0), ("=", 0, 1), ("nat", ("s", 1))), ((("nat", 0),),))
-        system = link((module("m", rules=NATURALS, blocks=(plain("three", statement),), entries=(("three", None, DONE),)),))
+        system = link((module("m", rules=NATURALS, blocks=(plain("three", statement),),
+                              entries=(("three", None, DONE),)),))
         right = (number(1), ("refl", (ONE,), ()), number(2))
         self.assertEqual(system.carry_out("three", (ONE, ONE), right), (0, (), right[:1]))
         for wrong in itertools.product((False, True), repeat=3):
@@ -445,7 +450,8 @@ class BoundsTest(SystemsTest):
         whole = chain(*applied * [("apply", "long", (), ())], *made * [("rule", "a", (), ())], ("done", 0, ()))
         statement = (0, (Q,), ((P,),))
         rules = (fact("a"), fact("b", Q))
-        blocks = (plain("long", (0, (), ((P,),))), cases("whole", statement, 0) if is_open else plain("whole", statement))
+        block = cases("whole", statement, 0) if is_open else plain("whole", statement)
+        blocks = (plain("long", (0, (), ((P,),))), block)
         entries = (("long", None, long), ("whole", "b" if is_open else None, whole))
         return (module("m", rules=rules, blocks=blocks, entries=entries),)
 
@@ -535,7 +541,8 @@ class BoundsTest(SystemsTest):
 
     def test_a_derivation_that_occurs_several_times(self):
         q = ("q", (P, P, P, P), Q)
-        made = self.with_proof(("rule", "q", (), (0, 0, 0, 0)), ("done", 0, ()), statement=(0, (P,), ((Q,),)), rules=(q,))
+        made = self.with_proof(("rule", "q", (), (0, 0, 0, 0)), ("done", 0, ()), statement=(0, (P,), ((Q,),)),
+                               rules=(q,))
         self.carries((0, (), (("q", (), 4 * (self.made(499),)),)), made, "t", (), self.made(499))
         self.carries(None, made, "t", (), self.made(500))
 
