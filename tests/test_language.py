@@ -205,6 +205,39 @@ class CodeTest(unittest.TestCase):
         for word in own:
             self.assertEqual(loaded.count(word), len([node for node in calls if node.func.id == word]))
 
+    def test_attributes_properties_and_methods(self):
+        """No attribute has the name of a property or a method, and none of them one of a builtin value."""
+        assigned = {node.attr for _, node in nodes(ast.Attribute) if isinstance(node.ctx, ast.Store)}
+        inside = [node for _, found in nodes(ast.ClassDef) for node in found.body if isinstance(node, ast.FunctionDef)]
+        own = {node.name for node in inside if not node.name.startswith("__")}
+        self.assertEqual(assigned & own, set())
+        builtin = {name for kind in (str, bytes, int, list, dict, set, tuple) for name in dir(kind)}
+        self.assertEqual((assigned | own) & builtin, set())
+        for name, node in nodes(ast.Attribute):
+            if isinstance(node.ctx, ast.Store):
+                self.assertEqual(getattr(node.value, "id", None), "self", (name, node.lineno))
+
+    def test_double_underscore_methods(self):
+        for name, found in nodes(ast.ClassDef):
+            for node in found.body:
+                if isinstance(node, ast.FunctionDef) and node.name.startswith("__"):
+                    self.assertIn(node.name, ("__init__", "__len__", "__contains__", "__iter__"), name)
+
+    def test_stars_and_handlers(self):
+        for name, node in nodes(ast.Starred):
+            self.assertIsInstance(node.value, ast.Name, (name, node.lineno))
+        for name, node in nodes(ast.ExceptHandler):
+            self.assertIn(node.type.id, ("TooLarge", "TacticFailed"), (name, node.lineno))
+        for name, node in nodes(ast.Raise):
+            self.assertTrue(node.exc is None or isinstance(node.exc, ast.Call), (name, node.lineno))
+
+    def test_lambdas_of_keys(self):
+        for name, node in nodes(ast.keyword):
+            if node.arg == "key" and isinstance(node.value, ast.Lambda):
+                self.assertIsInstance(node.value.body, ast.Subscript, (name, node.value.lineno))
+                self.assertIsInstance(node.value.body.value, ast.Name, (name, node.value.lineno))
+                self.assertIsInstance(node.value.body.slice, ast.Constant, (name, node.value.lineno))
+
     def test_tables_of_a_module_are_not_passed_on(self):
         for name, tree in trees():
             tables = {node.targets[0].id for node in tree.body
