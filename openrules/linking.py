@@ -68,9 +68,9 @@ def _new_cases(scope, summaries):
     known = {}
     problems = []
     for name, imports, declared, _, entries in summaries:
-        known[name] = {rule[0]: True for rule in declared}
-        for imported in imports:
-            known[name].update(known[imported])
+        own = [rule[0] for rule in declared]
+        inherited = [other for imported in imports for other in known[imported]]
+        known[name] = {other: True for other in own + inherited}
         unknown = [rule for rule in scope[0] if rule[0] not in known[name]]
         for entry in entries:
             problems.extend(_new_cases_of(entry, unknown))

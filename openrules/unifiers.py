@@ -114,13 +114,11 @@ def _written(terms, parts, leaders):
     written = {}
     waiting = [place for place in range(len(terms) - 1, -1, -1) if leaders[place] == place]
     while waiting:
-        kept = []
         for place in waiting:
             inner = [_leader(leaders, part) for part in parts[place]]
             if all(part in written for part in inner):
                 written[place] = _whole(terms[place], [written[part] for part in inner])
-            else:
-                kept.append(place)
+        kept = [place for place in waiting if place not in written]
         if len(kept) == len(waiting):
             return None
         waiting = kept

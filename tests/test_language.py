@@ -4,7 +4,10 @@ import ast
 import builtins
 import pathlib
 import re
+import textwrap
 import unittest
+
+from sharing import shared_changes
 
 ROOT = pathlib.Path(__file__).resolve().parent.parent
 PACKAGE = ROOT / "openrules"
@@ -31,6 +34,34 @@ STATEMENTS = (
 NO_STARTS = "_wall _pe_ _dcw_ _enum_ _cm_ _twin_re_ _lay_ _law_ _stub_ _sre _WallAttr".split()
 NO_PRIVATE = "_cold _tuplegetter _outside _record _written_out _member_names".split()
 NO_WORDS = ("typing", "enum", "Enum", "Generic", "Protocol", "ABC", "namedtuple", "dataclass", "overload", "random")
+
+SAMPLE = """\
+def same(rows):
+    return rows
+def inside(rows):
+    return same(rows)[0]
+def copied(rows):
+    return list(rows)
+def walk(rows):
+    for row in rows:
+        yield row
+def grow(rows):
+    rows.append(1)
+def grow_more(by, rows):
+    grow(rows)
+def read(rows):
+    return len(rows)
+class Box:
+    def __init__(self):
+        self.rows = []
+        self.many = 0
+    def own(self):
+        return self.rows
+    def take(self):
+        self.rows.pop()
+def sample(xs, ys, d):
+"""
+LINE = SAMPLE.count("\n") + 1
 
 
 def trees():
@@ -252,6 +283,90 @@ class CodeTest(unittest.TestCase):
             text = path.read_text()
             for word in NO_WORDS:
                 self.assertIsNone(re.search(rf"\b{word}\b", text), (path.name, word))
+
+
+class SharingTest(unittest.TestCase):
+    """What a loop goes over is not changed in it, and `extend` and `update` do not get what they change."""
+
+    def faults(self, text):
+        return [(line, word) for _, line, word in shared_changes({"sample": textwrap.dedent(text)})]
+
+    def test_package(self):
+        self.assertEqual(shared_changes({path.name: path.read_text() for path in FILES}), [])
+
+    def test_update_with_an_item_of_what_it_changes(self):
+        self.assertEqual(self.faults("""\
+            def known_by(summaries):
+                known = {}
+                for name, imports in summaries:
+                    known[name] = {}
+                    for imported in imports:
+                        known[name].update(known[imported])
+                return known
+            """), [(6, "gift")])
+
+    def test_a_loop_over_what_grows_by_another_name(self):
+        self.assertEqual(self.faults("""\
+            def written(waiting, done):
+                while waiting:
+                    kept = []
+                    for place in waiting:
+                        if place not in done:
+                            kept.append(place)
+                    waiting = kept
+            """), [(6, "loop")])
+
+    def test_rows_that_hand_out_what_they_change(self):
+        for row in (
+            "xs.extend(xs)", "xs += xs", "d |= d", "d.update(d)", "xs.extend(reversed(xs))", "xs.extend(ys or xs)",
+            "xs.extend(ys if d else xs)", "xs[0].extend(xs[1])", "xs += zip(xs, ys)", "xs.extend(d.get(1, xs))",
+            "xs.extend(x for x in xs)", "xs.rows.extend(xs.rows)", "xs.extend(same(xs))", "xs.extend(inside(xs))",
+            "xs.extend(walk(xs))", "xs.extend(xs.own())", "zs = xs; xs.extend(zs)", "d[1] = xs; xs.extend(d[1])",
+            "(zs := xs).extend(xs)", "ys.append(xs); xs.extend(ys[0])", "zs, k = xs, 1; xs.extend(zs)",
+        ):
+            with self.subTest(row):
+                self.assertEqual(self.faults(SAMPLE + f"    {row}\n"), [(LINE, "gift")])
+        for row in (
+            "xs.extend(list(xs))", "xs += ys", "d.update(dict(d))", "xs.extend(xs[:])", "xs.extend([x for x in xs])",
+            "xs += [1]", "xs[0].extend(list(xs[1]))", "xs.extend(copied(xs))", "xs = xs + xs", "ys.extend(xs.own())",
+            "xs.extend(list(walk(xs)))",
+        ):
+            with self.subTest(row):
+                self.assertEqual(self.faults(SAMPLE + f"    {row}\n"), [])
+
+    def test_loops_that_change_what_they_go_over(self):
+        for head in (
+            "x in xs", "k, x in enumerate(xs)", "x, y in zip(ys, xs)", "x in reversed(xs)", "x in ys or xs",
+            "x in (ys if d else xs)", "x in same(xs)", "x in walk(xs)", "x in list(walk(xs))", "x in (y for y in xs)",
+        ):
+            for row in (
+                "xs.append(1)", "xs[0] = 1", "xs.pop()", "del xs[0]", "xs += [1]", "xs.sort()", "xs[0].append(1)",
+                "grow(xs)", "grow_more(1, rows=xs)", "ys, xs[0] = 1, 2", "k = [xs.pop() for y in d]",
+            ):
+                with self.subTest(head, row=row):
+                    self.assertIn((LINE + 1, "loop"), self.faults(SAMPLE + f"    for {head}:\n        {row}\n"))
+        for head, row in (
+            ("x in d.items()", "d[1] = 2"), ("x in d", "d.setdefault(1, 2)"), ("x in d.values()", "del d[1]"),
+            ("x in xs.rows", "xs.rows.append(1)"), ("x in xs", "xs.rows.append(1)"), ("x in xs.rows", "xs.take()"),
+            ("x in xs.own()", "xs.take()"), ("x in xs[0]", "xs[1].append(1)"),
+        ):
+            with self.subTest(head, row=row):
+                self.assertEqual(self.faults(SAMPLE + f"    for {head}:\n        {row}\n"), [(LINE + 1, "loop")])
+
+    def test_comprehensions_that_change_what_they_go_over(self):
+        for row in ("k = [xs.pop() for x in xs]", "k = {x: grow(xs) for y in d for x in xs}"):
+            with self.subTest(row):
+                self.assertEqual(self.faults(SAMPLE + f"    {row}\n"), [(LINE, "loop")])
+
+    def test_loops_that_change_something_else(self):
+        for head, row in (
+            ("x in list(xs)", "xs.append(1)"), ("x in xs", "ys.append(x)"), ("x in xs[:]", "xs.append(1)"),
+            ("x in xs", "x.append(1)"), ("x in xs", "read(xs)"), ("x in xs", "k = xs[0]"),
+            ("x in sorted(d)", "del d[x]"), ("x in xs.rows", "xs.many = 1"), ("x in copied(xs)", "grow(xs)"),
+            ("x in d", "xs = [y for y in d]"),
+        ):
+            with self.subTest(head, row=row):
+                self.assertEqual(self.faults(SAMPLE + f"    for {head}:\n        {row}\n"), [])
 
 
 if __name__ == "__main__":
