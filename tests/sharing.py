@@ -12,6 +12,8 @@ CHANGING = set("append clear extend insert pop remove reverse setdefault update 
 PARTS = set("get pop setdefault items keys values".split())
 LAZY = set("enumerate zip reversed map iter".split())
 COPIES = set("list tuple dict sorted".split())
+# Two attributes can lead to each other, so that a path would grow forever.
+MOST_JOINS = 30
 COMPREHENSIONS = (ast.ListComp, ast.DictComp, ast.SetComp, ast.GeneratorExp)
 
 
@@ -96,8 +98,13 @@ class Function:
                     self.join(inner.func.value, argument)
 
     def leader(self, path):
-        while path in self.leaders:
-            path = self.leaders[path]
+        """The path that stands for this one; its beginning may have been joined with another path."""
+        for _ in range(MOST_JOINS):
+            places = [place for place in range(len(path), 0, -1) if (path + ".")[place] == "."]
+            joined = [place for place in places if path[:place] in self.leaders]
+            if not joined:
+                break
+            path = self.leaders[path[:joined[0]]] + path[joined[0]:]
         return path
 
     def join(self, target, value):
@@ -110,7 +117,7 @@ class Function:
             return
         for left in self.paths(target):
             for right in self.paths(value):
-                if self.leader(left) != self.leader(right):
+                if not self.is_shared(left, right):
                     self.leaders[self.leader(left)] = self.leader(right)
 
     def paths(self, node):

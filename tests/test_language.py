@@ -323,6 +323,7 @@ class SharingTest(unittest.TestCase):
             "xs.extend(x for x in xs)", "xs.rows.extend(xs.rows)", "xs.extend(same(xs))", "xs.extend(inside(xs))",
             "xs.extend(walk(xs))", "xs.extend(xs.own())", "zs = xs; xs.extend(zs)", "d[1] = xs; xs.extend(d[1])",
             "(zs := xs).extend(xs)", "ys.append(xs); xs.extend(ys[0])", "zs, k = xs, 1; xs.extend(zs)",
+            "zs = xs; zs.rows.extend(xs.rows)", "d.rows = xs; xs.extend(d.rows)", "d = xs.rows; d.extend(xs.own())",
         ):
             with self.subTest(row):
                 self.assertEqual(self.faults(SAMPLE + f"    {row}\n"), [(LINE, "gift")])
@@ -349,6 +350,7 @@ class SharingTest(unittest.TestCase):
             ("x in d.items()", "d[1] = 2"), ("x in d", "d.setdefault(1, 2)"), ("x in d.values()", "del d[1]"),
             ("x in xs.rows", "xs.rows.append(1)"), ("x in xs", "xs.rows.append(1)"), ("x in xs.rows", "xs.take()"),
             ("x in xs.own()", "xs.take()"), ("x in xs[0]", "xs[1].append(1)"),
+            ("x in xs.rows", "zs = xs; zs.rows.pop()"),
         ):
             with self.subTest(head, row=row):
                 self.assertEqual(self.faults(SAMPLE + f"    for {head}:\n        {row}\n"), [(LINE + 1, "loop")])
